@@ -1,0 +1,1 @@
+"""Twinsheets: curves y * y = f(x) over the residues modulo a prime."""

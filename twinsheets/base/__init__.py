@@ -1,0 +1,1 @@
+"""Numbers: residues, prime numbers and names."""

@@ -1,0 +1,1 @@
+"""Polynomials over the residues modulo a prime."""
