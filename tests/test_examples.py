@@ -1,0 +1,106 @@
+"""The document's own examples: each input with the result, or the error, that stands below it."""
+
+import unittest
+
+from twinsheets import errors
+from twinsheets.base import numbers
+from twinsheets.field import fields
+from twinsheets.poly import division, factors, polys, signs
+from twinsheets.poly.polys import Poly
+
+EXAMPLES = r'''
+>>> [factors(360), factors(1), factors(999999000001), is_prime(2), is_prime(31), is_residue(7, 7), is_name("quint")]
+[{2: 3, 3: 2, 5: 1}, {}, {999999000001: 1}, False, True, False, True]
+>>> [residue_inverse(7, 3), residue_root(7, 2), residue_root(7, 3), residue_root(5, 0), least_nonsquare(7), least_nonsquare(31), least_nonsquare(3)]
+[5, 3, None, 0, 3, 3, 2]
+>>> residue_inverse(5, 0)
+raises InvalidCount(0)
+>>> f, g = Poly.read(3, "x^5+2x+1"), Poly.read(3, "x^2+1")
+>>> [f.entries, f.degree, f.lead, f.number, str(f // g), str(f % g), str(-g), str(f * g)]
+[(1, 2, 0, 0, 0, 1), 5, 1, 250, 'x^3+2x', '1', '2x^2+2', 'x^7+x^5+2x^3+x^2+2x+1']
+>>> [f(2), f[5], f[9], str(f.derivative()), str(g.composed(Poly.read(3, "x+1"))), str(g.reversed_to(3)), poly_at(3, 250) == f, str(poly_at(3, 0))]
+[1, 1, 0, '2x^4+2', 'x^2+2x+2', 'x^3+x', True, '0']
+>>> [str(common(f, g * g)), are_cofactors(f, g, (Poly(3, (1,)), Poly(3, (1,)), Poly.read(3, "2x^3+x"))), str(power_modulo(Poly.read(3, "x+1"), 4, g)), str(inverse_modulo(Poly.read(3, "x"), g)), inverse_modulo(g, g)]
+['1', True, '2', '2x', None]
+>>> [str(joined_rests(((Poly(3, (1,)), Poly.read(3, "x")), (Poly(3, (2,)), Poly.read(3, "x+1"))))), is_square_free(f), is_square_free(g * g)]
+['2x+1', True, False]
+>>> f // Poly(3, ())
+raises InvalidOperation
+>>> sept, five, quint = Poly.read(3, "x^7+x+1"), Poly.read(5, "x^5+x+1"), Poly.read(3, "x^5+2x+1")
+>>> [(str(part), many) for part, many in parts(five)[1]], parts(Poly.read(5, "2x^3"))[0], [str(part) for part, many in parts(sept)[1]]
+([('x+3', 1), ('x^2+x+1', 1), ('x^2+x+2', 1)], 2, ['x+2', 'x^6+x^5+x^4+x^3+x^2+x+2'])
+>>> [is_irreducible(quint), bar_of(quint), is_bar(sept, Poly.read(3, "x+2")), is_bar(sept, sept), roots(five), roots(Poly.read(3, "x^2+1"))]
+[True, None, True, False, (2,), ()]
+>>> [str(by_degrees(five)[2]), list(by_degrees(five)), str(raised(Poly.read(3, "x^2+1"), 1)), str(raised(Poly.read(3, "x^2+1"), 2))]
+['x^4+2x^3+4x^2+3x+2', [1, 2], '2x', 'x']
+>>> [count_irreducible(3, 2), count_irreducible(3, 4), [str(one) for one in irreducibles(3, 2)], str(least_irreducible(5, 2))]
+[3, 18, ['x^2+1', 'x^2+x+2', 'x^2+2x+2'], 'x^2+2']
+>>> [discriminant(Poly.read(3, "x^2+1")), discriminant(five), discriminant(quint), discriminant(Poly.read(3, "x^2+x+1"))]
+[2, 1, 1, 0]
+>>> ONE, X, F = Poly.read(3, "1"), Poly.read(3, "x"), Poly.read(3, "x^2+1")
+>>> [sign(F, Poly.read(3, "x+1")), sign(QUINT.f, X), sign(X, F), sign(F, F), sign(Poly(3, ()), ONE), sign_sum(QUINT.f, 1), sign_sum(QUINT.f, 5)]
+[-1, 1, 1, 0, 1, 3, 0]
+>>> turned(F, Poly.read(3, "x+1")) == ((F, Poly.read(3, "x+1"), 1), (Poly.read(3, "x+1"), ONE, -1))
+True
+>>> [[str(root) for root in roots_modulo(X, F)], [str(root) for root in roots_modulo(ONE, Poly.read(3, "x^2+x"))], roots_modulo(ONE, ONE) == (Poly(3, ()),)]
+[['x+2', '2x+1'], ['1', '2', 'x+2', '2x+1'], True]
+>>> both = Poly.read(3, "x^2+x")
+>>> [sign(Poly.read(3, "2"), both), is_square_modulo(Poly.read(3, "2"), both), str(bar_modulo(Poly.read(3, "2"), both)), is_bar_modulo(Poly.read(3, "2"), both, Poly.read(3, "x+1")), bar_modulo(ONE, both)]
+[1, False, 'x', True, None]
+>>> sign(F, Poly.read(3, "2x"))
+raises InvalidPoly
+>>> NINE, five = Field(3, 2), Field(5, 1)
+>>> [str(NINE), NINE.multiplied(4, 5), NINE.added(4, 5), NINE.inverse(4), NINE.power(3, 2), NINE.maker, len(five), five.multiplied(3, 4)]
+['field of 9 elements by x^2+1', 1, 6, 5, 2, 4, 5, 2]
+>>> [NINE.orbit(4), str(NINE.least_poly(4)), NINE.trace(4), NINE.norm_of(4), NINE.is_square(4), NINE.root(2), NINE.root(4), 9 in NINE]
+[(4, 7), 'x^2+x+2', 2, 2, False, 3, None, False]
+>>> [points_walked(QUINT.f, 1), points_walked(QUINT.f, 2), points_walked(EVEN.f, 1), list(points_off(EVEN.f, 1))]
+[7, 15, 6, [(0, 1), (0, 2), (2, 1), (2, 2)]]
+>>> NINE.inverse(0)
+raises InvalidOperation
+'''
+
+
+class Told:
+    """What has the polynomial of a curve as its f."""
+
+    def __init__(self, prime, text):
+        self.f = Poly.read(prime, text)
+
+
+def names():
+    """All names that the examples use, each from the module under which the document lists it."""
+    found = {"QUINT": Told(3, "x^5+2x+1"), "EVEN": Told(3, "x^6+2x^5+x^4+1")}
+    for module in (errors, numbers, polys, division, factors, signs, fields):
+        for name, value in vars(module).items():
+            if getattr(value, "__module__", None) == module.__name__:
+                found[name] = value
+    return found
+
+
+class ExamplesTest(unittest.TestCase):
+    def test_all(self):
+        known = names()
+        pieces = EXAMPLES.strip()[4:].split("\n>>> ")
+        self.assertEqual(len(pieces), 27)
+        for piece in pieces:
+            with self.subTest(example=piece):
+                line, _, told = piece.partition("\n")
+                if not told:
+                    exec(line, known)
+                elif told.startswith("raises "):
+                    self.check_error(line, told.removeprefix("raises "), known)
+                else:
+                    self.assertEqual(repr(eval(line, known)), told)
+
+    def check_error(self, line, told, known):
+        name, _, value = told.partition("(")
+        with self.assertRaises(known[name]) as caught:
+            eval(line, known)
+        self.assertIs(type(caught.exception), known[name])
+        if value:
+            self.assertEqual(caught.exception.value, int(value.rstrip(")")))
+
+
+if __name__ == "__main__":
+    unittest.main()

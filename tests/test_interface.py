@@ -1,0 +1,74 @@
+"""The interface: the names, where they stand, and the arguments that they take."""
+
+import inspect
+import unittest
+from importlib import import_module
+
+FUNCTIONS = {
+    "twinsheets.base.numbers": {
+        "is_integer": "value", "is_prime": "value", "is_residue": "prime value", "is_name": "value",
+        "factors": "number", "residue_inverse": "prime number", "residue_root": "prime number",
+        "least_nonsquare": "prime"},
+    "twinsheets.poly.polys": {"poly_at": "prime number"},
+    "twinsheets.poly.division": {
+        "common": "one other", "cofactors": "one other", "are_cofactors": "one other value",
+        "power_modulo": "base exponent modulus", "inverse_modulo": "poly modulus", "joined_rests": "rows",
+        "is_square_free": "poly"},
+    "twinsheets.poly.factors": {
+        "parts": "poly", "is_irreducible": "poly", "roots": "poly", "raised": "poly times", "by_degrees": "poly",
+        "bar_of": "poly", "is_bar": "poly value", "discriminant": "poly", "count_irreducible": "prime degree",
+        "irreducibles": "prime degree", "least_irreducible": "prime degree"},
+    "twinsheets.poly.signs": {
+        "sign": "f u", "turned": "f u", "sign_sum": "f degree", "is_square_modulo": "f u", "roots_modulo": "f u",
+        "bar_modulo": "f u", "is_bar_modulo": "f u value"},
+    "twinsheets.field.fields": {"points_off": "f degree", "points_walked": "f degree"},
+}
+METHODS = {
+    ("twinsheets.poly.polys", "Poly"): {
+        "__init__": "prime entries", "read": "prime text", "__add__": "other", "__sub__": "other", "__mul__": "other",
+        "__floordiv__": "other", "__mod__": "other", "__neg__": "", "__call__": "residue", "__getitem__": "power",
+        "monic": "", "scaled": "residue", "derivative": "", "power": "exponent", "composed": "other",
+        "reversed_to": "size", "__eq__": "other", "__str__": ""},
+    ("twinsheets.field.fields", "Field"): {
+        "__init__": "prime degree", "added": "one other", "multiplied": "one other", "negative": "one",
+        "inverse": "one", "power": "one exponent", "value_of": "poly one", "is_square": "one", "root": "one",
+        "orbit": "one", "least_poly": "one", "trace": "one", "norm_of": "one", "__len__": "", "__contains__": "value",
+        "__iter__": "", "__eq__": "other", "__str__": ""},
+}
+PROPERTIES = {
+    "Poly": ("prime", "entries", "degree", "lead", "number", "is_zero", "is_monic"),
+    "Field": ("prime", "degree", "modulus", "size", "maker"),
+}
+
+
+class InterfaceTest(unittest.TestCase):
+    def test_functions(self):
+        for module, names in FUNCTIONS.items():
+            for name, parameters in names.items():
+                function = getattr(import_module(module), name)
+                self.assertEqual(function.__module__, module)
+                self.assertEqual(list(inspect.signature(function).parameters), parameters.split(), name)
+
+    def test_methods(self):
+        for (module, name), methods in METHODS.items():
+            told = getattr(import_module(module), name)
+            self.assertEqual(told.__module__, module)
+            for method, parameters in methods.items():
+                held = vars(told)[method]
+                function = held.__func__ if isinstance(held, classmethod) else held
+                self.assertEqual(list(inspect.signature(function).parameters)[1:], parameters.split(), method)
+
+    def test_properties(self):
+        made = {name: getattr(import_module(module), name)(3, (1, 2) if name == "Poly" else 2)
+                for module, name in METHODS}
+        for name, properties in PROPERTIES.items():
+            for told in properties:
+                self.assertTrue(hasattr(made[name], told), told)
+
+    def test_generators(self):
+        for module, name in (("twinsheets.poly.factors", "irreducibles"), ("twinsheets.field.fields", "points_off")):
+            self.assertTrue(inspect.isgeneratorfunction(getattr(import_module(module), name)))
+
+
+if __name__ == "__main__":
+    unittest.main()

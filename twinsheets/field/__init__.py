@@ -1,0 +1,1 @@
+"""Fields with finitely many members."""
