@@ -39,6 +39,19 @@ def names_of(tree):
             yield node.attr
 
 
+def changed_lists(tree):
+    """The names of what a function gives items to, or changes by a method."""
+    for node in ast.walk(tree):
+        if isinstance(node, ast.Subscript) and isinstance(node.ctx, (ast.Store, ast.Del)):
+            held = node.value
+        elif isinstance(node, ast.Attribute) and node.attr in ("append", "extend", "insert", "pop", "remove", "reverse"):
+            held = node.value
+        else:
+            continue
+        if isinstance(held, ast.Name):
+            yield held.id
+
+
 class LanguageTest(unittest.TestCase):
     def test_files(self):
         self.assertTrue(FILES)
@@ -98,6 +111,17 @@ class LanguageTest(unittest.TestCase):
                     self.assertIsInstance(node.right, ast.Constant, path)
                 if isinstance(node, ast.Constant):
                     self.assertNotIsInstance(node.value, (float, complex, bytes))
+
+    def test_lists_that_are_changed(self):
+        # Beside a `__mul__` a list that is made by `*` is not surely a new one.
+        for path, tree in trees():
+            for node in ast.walk(tree):
+                if isinstance(node, ast.FunctionDef):
+                    repeated = {target.id for part in ast.walk(node) if isinstance(part, ast.Assign)
+                                and isinstance(part.value, ast.BinOp) and isinstance(part.value.op, ast.Mult)
+                                and ast.List in (type(part.value.left), type(part.value.right))
+                                for target in part.targets if isinstance(target, ast.Name)}
+                    self.assertEqual(repeated & set(changed_lists(node)), set(), (path, node.name))
 
     def test_strings(self):
         for path, tree in trees():

@@ -198,7 +198,7 @@ def row_told(prime, text):
     """The row with a text, or None if the value is no text of one."""
     if not isinstance(text, str):
         return None
-    entries = [0] * MAX_ENTRIES
+    entries = [0 for _ in range(MAX_ENTRIES)]
     for term in text.split("+"):
         entry, power = term_told(term)
         if entry is None or power is None or entry >= prime:

@@ -77,7 +77,7 @@ def row_product(prime, one, other):
 
 def short_product(prime, one, other):
     """The product of two rows other than zero, entry by entry."""
-    sums = [0] * (len(one) + len(other) - 1)
+    sums = [0 for _ in range(len(one) + len(other) - 1)]
     for low, entry in enumerate(one):
         if entry:
             for high, factor in enumerate(other):
@@ -117,7 +117,7 @@ def short_divided(prime, one, other):
     size = len(other)
     inverse = inverse_of(prime, other[-1])
     rest = list(one)
-    quotient = [0] * max(0, len(one) - size + 1)
+    quotient = [0 for _ in range(max(0, len(one) - size + 1))]
     for low in range(len(one) - size, -1, -1):
         factor = rest[low + size - 1] * inverse % prime
         if factor:
