@@ -18,6 +18,8 @@ NO_INTEGERS = (True, False, None, "", "1", "x", (), (1,), ((1, 2), 3), [], [1], 
 # Values of all kinds that are no polynomials.
 NO_POLYS = (True, False, None, "", "x+1", 0, 1, 7, -1, SIXTY, SIXTY_ONE, (), (0, 1), (3, (0, 1)), [], [0, 1], {},
             {0: 1}, InvalidOperation("x"))
+# Values of all kinds that are no objects of the package but errors and polynomials.
+NO_OBJECTS = NO_POLYS + (Poly(3, (1,)), Poly(3, (0, 1)), Poly(5, (1, 1)))
 NO_PRIMES = (0, 1, 2, 4, 9, 37, -3, 33) + NO_INTEGERS
 
 
@@ -143,6 +145,85 @@ def sign(p, f, u):
     for factor in factors(p, u):
         told *= sign_at(p, f, factor)
     return told
+
+
+def derivative(p, one):
+    return strip([i * a % p for i, a in enumerate(one)][1:])
+
+
+def common(p, one, other):
+    while other:
+        one, other = other, rest(p, one, other)
+    return scale(p, one, inverse(p, one[-1])) if one else ()
+
+
+def is_square_free(p, one):
+    return common(p, one, derivative(p, one)) == (1,)
+
+
+def kind(p, f):
+    if len(f) % 2 == 0:
+        return "one"
+    return "two" if any(w * w % p == f[-1] for w in range(p)) else "none"
+
+
+def genus(f):
+    return (len(f) - 2) // 2
+
+
+def curve_rows(p, many=1, seed=1):
+    """For each degree from 1 to 8, and each kind that it can have, so many square-free polynomials."""
+    found = []
+    for degree in range(1, 9):
+        for told in (("one",) if degree % 2 else ("two", "none")):
+            rows, state = [], seed
+            while len(rows) < many:
+                state += 1
+                row = next(row for row in some_rows(p, 400, 9, state) if len(row) == degree + 1)
+                if kind(p, row) == told and is_square_free(p, row) and row not in rows:
+                    rows.append(row)
+            found.extend(rows)
+    return found
+
+
+def all_curve_rows(p, degree):
+    """All square-free polynomials of a degree."""
+    return [scale(p, row, lead) for lead in range(1, p) for row in monics(p, degree) if is_square_free(p, row)]
+
+
+def rims(p, f):
+    if kind(p, f) == "one":
+        return [("rim", 0)]
+    return [("rim", s) for s in range(p) if s * s % p == f[-1]] or [("rim", -1)]
+
+
+def places_over(p, f, u):
+    """The places with an irreducible polynomial, by trying all of lesser degree."""
+    found = [(u, v) for v in below(p, len(u) - 1) if not rest(p, less(p, f, times(p, v, v)), u)]
+    return found or [(u, None)]
+
+
+def degree_of(place):
+    if place[0] == "rim":
+        return 2 if place[1] == -1 else 1
+    return (len(place[0]) - 1) * (2 if place[1] is None else 1)
+
+
+def places(p, f, top):
+    """All places whose u has a degree up to this one, and those at the rim, ascending."""
+    found = rims(p, f)
+    for degree in range(1, top + 1):
+        for u in monics(p, degree):
+            if is_irreducible(p, u):
+                found.extend(places_over(p, f, u))
+    return found
+
+
+def opposite(p, place):
+    first, second = place
+    if first == "rim":
+        return (first, p - second) if second > 0 else place
+    return place if second is None else (first, scale(p, second, p - 1))
 
 
 def polys(p, rows):

@@ -4,9 +4,10 @@ import unittest
 
 from twinsheets import errors
 from twinsheets.base import numbers
+from twinsheets.curve import changes, curves, places
 from twinsheets.field import fields
 from twinsheets.poly import division, factors, polys, signs
-from twinsheets.poly.polys import Poly
+from twinsheets.zeta import bounds
 
 EXAMPLES = r'''
 >>> [factors(360), factors(1), factors(999999000001), is_prime(2), is_prime(31), is_residue(7, 7), is_name("quint")]
@@ -58,23 +59,50 @@ raises InvalidPoly
 [7, 15, 6, [(0, 1), (0, 2), (2, 1), (2, 2)]]
 >>> NINE.inverse(0)
 raises InvalidOperation
+>>> [QUINT.kind, EVEN.kind, NONE.kind, SEPT.genus, QUINT.rims, EVEN.rims, NONE.rims, len(FIVE), str(QUINT)]
+['one', 'two', 'none', 3, (('rim', 0),), (('rim', 1), ('rim', 2)), (('rim', -1),), 6, 'y^2 = x^5+2x+1 over 3']
+>>> EVEN.points()
+(('rim', 1), ('rim', 2), ((0, 1), (1,)), ((0, 1), (2,)), ((1, 1), (1,)), ((1, 1), (2,)))
+>>> [opposite(EVEN, ("rim", 1)), opposite(QUINT, ((0, 1), (1,))), kind_of(FIVE, ((3, 1), ())), kind_of(EVEN, ((2, 1), None)), degree_of(EVEN, ((2, 1), None)), degree_of(NONE, ("rim", -1))]
+[('rim', 2), ((0, 1), (2,)), 'ramified', 'inert', 2, 2]
+>>> [list(places(EVEN, 2)), places_over(QUINT, Poly.read(3, "x^2+1")), len(list(places(QUINT, 2)))]
+[[((2, 1), None), ((2, 2, 1), (1, 1)), ((2, 2, 1), (2, 2))], (((1, 0, 1), (1,)), ((1, 0, 1), (2,))), 4]
+>>> [point_at(FIVE, 2, 0), point_of(EVEN, ((1, 1), (2,))), is_place(QUINT, ((0, 1), (1, 0))), is_place(QUINT, ("rim", 1)), str(FIVE.twist())]
+[((3, 1), ()), (2, 2), False, False, 'y^2 = 2x^5+2x+2 over 5']
+>>> Curve.read(3, "x^4+2x^2+1")
+raises InvalidCurve
+>>> TURN = Change(3, 2, (0, 1, 1, 0), 1)
+>>> TURNED = changed(QUINT, TURN)
+>>> [str(TURNED.f), TURNED.kind, led(QUINT, TURN, ("rim", 0)), led(QUINT, TURN, ((0, 1), (1,))), TURN.inverse() == TURN]
+['x^6+2x^5+x', 'two', ((0, 1), ()), ('rim', 1), True]
+>>> [str(Change(3, 2, (0, 2, 2, 0), 2)), TURN.then(TURN) == plain_change(3, 2), count_changes(3), len(list(each_change(3, 2)))]
+['0 1 1 0, 1', True, 48, 48]
+>>> [[str(change) for change in own_changes(QUINT)], between(QUINT, EVEN), is_change(QUINT, TURNED, TURN), is_change(TURNED, QUINT, TURN)]
+[['1 0 0 1, 1', '1 0 0 1, 2'], None, True, True]
+>>> Change(3, 2, (1, 1, 2, 2), 1)
+raises InvalidChange
+>>> [sums_row(3, (1, 3, 7, 9, 9)), sums_row(3, (1, 0, 0, 6, 0, 0, 27)), are_bounded(3, (1, 3, 7, 9, 9)), are_bounded(3, (1, 0, -9, 0, 9)), are_bounded(3, (1, 2, 3)), are_bounded(3, (1, 1, 1))]
+[(1, 3, 1), (6, -9, 0, 1), True, False, True, False]
 '''
 
 
-class Told:
-    """What has the polynomial of a curve as its f."""
-
-    def __init__(self, prime, text):
-        self.f = Poly.read(prime, text)
+CURVES = """
+QUINT = Curve.read(3, "x^5+2x+1")
+EVEN = Curve.read(3, "x^6+2x^5+x^4+1")
+NONE = Curve.read(3, "2x^6+x+1")
+SEPT = Curve.read(3, "x^7+x+1")
+FIVE = Curve.read(5, "x^5+x+1")
+"""
 
 
 def names():
     """All names that the examples use, each from the module under which the document lists it."""
-    found = {"QUINT": Told(3, "x^5+2x+1"), "EVEN": Told(3, "x^6+2x^5+x^4+1")}
-    for module in (errors, numbers, polys, division, factors, signs, fields):
+    found = {}
+    for module in (errors, numbers, polys, division, factors, signs, fields, curves, places, changes, bounds):
         for name, value in vars(module).items():
             if getattr(value, "__module__", None) == module.__name__:
                 found[name] = value
+    exec(CURVES, found)
     return found
 
 
@@ -82,7 +110,7 @@ class ExamplesTest(unittest.TestCase):
     def test_all(self):
         known = names()
         pieces = EXAMPLES.strip()[4:].split("\n>>> ")
-        self.assertEqual(len(pieces), 27)
+        self.assertEqual(len(pieces), 40)
         for piece in pieces:
             with self.subTest(example=piece):
                 line, _, told = piece.partition("\n")

@@ -4,6 +4,8 @@ import inspect
 import unittest
 from importlib import import_module
 
+from twinsheets.poly.polys import Poly
+
 FUNCTIONS = {
     "twinsheets.base.numbers": {
         "is_integer": "value", "is_prime": "value", "is_residue": "prime value", "is_name": "value",
@@ -22,6 +24,14 @@ FUNCTIONS = {
         "sign": "f u", "turned": "f u", "sign_sum": "f degree", "is_square_modulo": "f u", "roots_modulo": "f u",
         "bar_modulo": "f u", "is_bar_modulo": "f u value"},
     "twinsheets.field.fields": {"points_off": "f degree", "points_walked": "f degree"},
+    "twinsheets.curve.places": {
+        "is_place": "curve value", "degree_of": "curve place", "opposite": "curve place", "kind_of": "curve place",
+        "places_over": "curve poly", "places": "curve degree", "point_at": "curve x y", "point_of": "curve place"},
+    "twinsheets.curve.changes": {
+        "plain_change": "prime genus", "count_changes": "prime", "each_change": "prime genus",
+        "changed": "curve change", "led": "curve change place", "between": "one other", "is_change": "one other value",
+        "own_changes": "curve"},
+    "twinsheets.zeta.bounds": {"sums_row": "prime value", "are_bounded": "prime value"},
 }
 METHODS = {
     ("twinsheets.poly.polys", "Poly"): {
@@ -34,11 +44,32 @@ METHODS = {
         "inverse": "one", "power": "one exponent", "value_of": "poly one", "is_square": "one", "root": "one",
         "orbit": "one", "least_poly": "one", "trace": "one", "norm_of": "one", "__len__": "", "__contains__": "value",
         "__iter__": "", "__eq__": "other", "__str__": ""},
+    ("twinsheets.curve.curves", "Curve"): {
+        "__init__": "poly", "read": "prime text", "points": "", "twist": "", "__len__": "", "__iter__": "",
+        "__contains__": "value", "__eq__": "other", "__str__": ""},
+    ("twinsheets.curve.changes", "Change"): {
+        "__init__": "prime genus table scale", "then": "other", "inverse": "", "__eq__": "other", "__str__": ""},
 }
 PROPERTIES = {
     "Poly": ("prime", "entries", "degree", "lead", "number", "is_zero", "is_monic"),
     "Field": ("prime", "degree", "modulus", "size", "maker"),
+    "Curve": ("f", "prime", "kind", "genus", "rims"),
+    "Change": ("prime", "genus", "table", "scale"),
 }
+# What an object of each class is made of.
+MADE = {"Poly": (3, (1, 2)), "Field": (3, 2), "Curve": (Poly(3, (0, 1)),), "Change": (3, 1, (1, 0, 0, 1), 1)}
+CONSTANTS = {
+    "twinsheets.base.numbers": {"MAX_FACTORED": 10 ** 12, "MAX_LETTERS": 8},
+    "twinsheets.poly.polys": {"MAX_ENTRIES": 1000},
+    "twinsheets.poly.factors": {"MAX_PARTED": 60, "MAX_LISTED": 20},
+    "twinsheets.poly.signs": {"MAX_SUMMED": 3000, "MAX_ROOTS": 1000},
+    "twinsheets.field.fields": {"MAX_SIZE": 3000},
+    "twinsheets.curve.curves": {"MAX_DEGREE": 8},
+    "twinsheets.curve.places": {"MAX_DEGREE": 8},
+    "twinsheets.curve.changes": {"MAX_WALKED": 13},
+}
+GENERATORS = (("twinsheets.poly.factors", "irreducibles"), ("twinsheets.field.fields", "points_off"),
+              ("twinsheets.curve.places", "places"), ("twinsheets.curve.changes", "each_change"))
 
 
 class InterfaceTest(unittest.TestCase):
@@ -59,14 +90,18 @@ class InterfaceTest(unittest.TestCase):
                 self.assertEqual(list(inspect.signature(function).parameters)[1:], parameters.split(), method)
 
     def test_properties(self):
-        made = {name: getattr(import_module(module), name)(3, (1, 2) if name == "Poly" else 2)
-                for module, name in METHODS}
+        made = {name: getattr(import_module(module), name)(*MADE[name]) for module, name in METHODS}
         for name, properties in PROPERTIES.items():
             for told in properties:
                 self.assertTrue(hasattr(made[name], told), told)
 
+    def test_constants(self):
+        for module, told in CONSTANTS.items():
+            for name, value in told.items():
+                self.assertEqual(getattr(import_module(module), name), value)
+
     def test_generators(self):
-        for module, name in (("twinsheets.poly.factors", "irreducibles"), ("twinsheets.field.fields", "points_off")):
+        for module, name in GENERATORS:
             self.assertTrue(inspect.isgeneratorfunction(getattr(import_module(module), name)))
 
 

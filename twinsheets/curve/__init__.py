@@ -1,0 +1,1 @@
+"""Curves, their places, and changes of x and y."""

@@ -1,0 +1,1 @@
+"""The polynomial that counts points, places and classes."""
