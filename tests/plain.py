@@ -132,6 +132,18 @@ def factors(p, one):
     return sorted(found, key=lambda row: number(p, row))
 
 
+def parts_of(p, one):
+    """The different irreducible factors of degree 1 to 3, and behind them what is left, if anything is."""
+    found = []
+    for degree in (1, 2, 3) if p < 5 else (1, 2) if p < 13 else (1,):
+        for two in monics(p, degree):
+            if not rest(p, one, two) and is_irreducible(p, two):
+                found.append(two)
+                while not rest(p, one, two):
+                    one = split(p, one, two)[0]
+    return found + [scale(p, one, inverse(p, one[-1]))] if len(one) > 1 else found
+
+
 def sign_at(p, f, factor):
     """The sign for an irreducible polynomial, by trying all squares."""
     f = rest(p, f, factor)

@@ -5,9 +5,10 @@ import unittest
 from twinsheets import errors
 from twinsheets.base import numbers
 from twinsheets.curve import changes, curves, places
+from twinsheets.divisor import divisors, functions
 from twinsheets.field import fields
 from twinsheets.poly import division, factors, polys, signs
-from twinsheets.zeta import bounds
+from twinsheets.zeta import bounds, counts
 
 EXAMPLES = r'''
 >>> [factors(360), factors(1), factors(999999000001), is_prime(2), is_prime(31), is_residue(7, 7), is_name("quint")]
@@ -81,8 +82,25 @@ raises InvalidCurve
 [['1 0 0 1, 1', '1 0 0 1, 2'], None, True, True]
 >>> Change(3, 2, (1, 1, 2, 2), 1)
 raises InvalidChange
->>> [sums_row(3, (1, 3, 7, 9, 9)), sums_row(3, (1, 0, 0, 6, 0, 0, 27)), are_bounded(3, (1, 3, 7, 9, 9)), are_bounded(3, (1, 0, -9, 0, 9)), are_bounded(3, (1, 2, 3)), are_bounded(3, (1, 1, 1))]
-[(1, 3, 1), (6, -9, 0, 1), True, False, True, False]
+>>> [by_points(QUINT), by_signs(QUINT), by_table(QUINT), table_of(QUINT), class_number(QUINT), l_of(EVEN), l_of(NONE), l_of(SEPT)]
+[(1, 3, 7, 9, 9), (1, 3, 7, 9, 9), (1, 0, 1), ((0, 2), (1, 0)), 29, (1, 2, 3, 6, 9), (1, 0, 3, 0, 9), (1, 0, 0, 6, 0, 0, 27)]
+>>> [[sum_of_signs(EVEN, 0), sum_of_signs(EVEN, 3), sum_of_signs(EVEN, 5), sum_of_signs(EVEN, 6)], points_over(QUINT, 8), places_of(QUINT, 4), l_over(QUINT, 2)]
+[[1, 3, -9, 0], 6323, 17, (1, 5, 13, 45, 81)]
+>>> [l_of(QUINT.twist()), class_number(QUINT.twist()), sums_row(3, (1, 3, 7, 9, 9)), sums_row(3, l_of(SEPT)), sums_row(5, l_of(FIVE))]
+[(1, -3, 7, -9, 9), 5, (1, 3, 1), (6, -9, 0, 1), (0, 0, 1)]
+>>> [are_bounded(3, (1, 3, 7, 9, 9)), are_bounded(3, (1, 0, -9, 0, 9)), are_bounded(3, (1, 2, 3)), are_bounded(3, (1, 1, 1))]
+[True, False, True, False]
+>>> X, ONE, NO = Poly.read(3, "x"), Poly(3, (1,)), Poly(3, ())
+>>> unit = Function(EVEN, Poly.read(3, "x^3+x^2"), ONE, ONE)
+>>> [str(unit), [str(one) for one in unit.norm], divisor_of(unit).table, str(divisor_of(unit)), unit.over(unit).is_residue]
+['x^3+x^2+(1)y', ['2', '1'], {('rim', 1): -3, ('rim', 2): 3}, '-3(rim 1) + 3(rim 2)', True]
+>>> y, less = Function(QUINT, NO, ONE, ONE), Function(QUINT, Poly(3, (2,)), ONE, X)
+>>> [divisor_of(y).table, str(less), str(divisor_of(less)), less.order_at(((0, 1), (2,)))]
+[{('rim', 0): -5, ((1, 2, 0, 0, 0, 1), ()): 1}, '(2+(1)y)/(x)', '-3(rim 0) - (x: 2) + (x+1: 1) + (x+2: 1) + (x^2+1: 1)', -1]
+>>> [less.value_at(((0, 1), (1,))), y.value_at(((2, 1), (2,))), y * y == Function(QUINT, Poly.read(3, "x^5+2x+1"), NO, ONE), divisor_of(less).degree]
+[1, 2, True, 0]
+>>> less.value_at(((0, 1), (2,)))
+raises InvalidOperation
 '''
 
 
@@ -98,7 +116,8 @@ FIVE = Curve.read(5, "x^5+x+1")
 def names():
     """All names that the examples use, each from the module under which the document lists it."""
     found = {}
-    for module in (errors, numbers, polys, division, factors, signs, fields, curves, places, changes, bounds):
+    for module in (errors, numbers, polys, division, factors, signs, fields, curves, places, changes, bounds, counts,
+                   functions, divisors):
         for name, value in vars(module).items():
             if getattr(value, "__module__", None) == module.__name__:
                 found[name] = value
@@ -110,7 +129,7 @@ class ExamplesTest(unittest.TestCase):
     def test_all(self):
         known = names()
         pieces = EXAMPLES.strip()[4:].split("\n>>> ")
-        self.assertEqual(len(pieces), 40)
+        self.assertEqual(len(pieces), 50)
         for piece in pieces:
             with self.subTest(example=piece):
                 line, _, told = piece.partition("\n")

@@ -4,6 +4,7 @@ import inspect
 import unittest
 from importlib import import_module
 
+from twinsheets.curve.curves import Curve
 from twinsheets.poly.polys import Poly
 
 FUNCTIONS = {
@@ -32,6 +33,11 @@ FUNCTIONS = {
         "changed": "curve change", "led": "curve change place", "between": "one other", "is_change": "one other value",
         "own_changes": "curve"},
     "twinsheets.zeta.bounds": {"sums_row": "prime value", "are_bounded": "prime value"},
+    "twinsheets.zeta.counts": {
+        "by_points": "curve", "by_signs": "curve", "sum_of_signs": "curve degree", "table_of": "curve",
+        "by_table": "curve", "l_of": "curve", "class_number": "curve", "points_over": "curve degree",
+        "places_of": "curve degree", "l_over": "curve degree"},
+    "twinsheets.divisor.divisors": {"divisor_of": "function", "place_divisor": "curve place"},
 }
 METHODS = {
     ("twinsheets.poly.polys", "Poly"): {
@@ -49,15 +55,26 @@ METHODS = {
         "__contains__": "value", "__eq__": "other", "__str__": ""},
     ("twinsheets.curve.changes", "Change"): {
         "__init__": "prime genus table scale", "then": "other", "inverse": "", "__eq__": "other", "__str__": ""},
+    ("twinsheets.divisor.functions", "Function"): {
+        "__init__": "curve a b c", "__add__": "other", "__sub__": "other", "__mul__": "other", "__neg__": "",
+        "over": "other", "opposite": "", "power": "many", "order_at": "place", "value_at": "place", "__eq__": "other",
+        "__str__": ""},
+    ("twinsheets.divisor.divisors", "Divisor"): {
+        "__init__": "curve table", "__add__": "other", "__sub__": "other", "__neg__": "", "times": "many",
+        "at": "place", "opposite": "", "__len__": "", "__iter__": "", "__contains__": "value", "__eq__": "other",
+        "__str__": ""},
 }
 PROPERTIES = {
     "Poly": ("prime", "entries", "degree", "lead", "number", "is_zero", "is_monic"),
     "Field": ("prime", "degree", "modulus", "size", "maker"),
     "Curve": ("f", "prime", "kind", "genus", "rims"),
     "Change": ("prime", "genus", "table", "scale"),
+    "Function": ("curve", "a", "b", "c", "norm", "is_zero", "is_residue"),
+    "Divisor": ("curve", "table", "degree", "is_positive"),
 }
 # What an object of each class is made of.
-MADE = {"Poly": (3, (1, 2)), "Field": (3, 2), "Curve": (Poly(3, (0, 1)),), "Change": (3, 1, (1, 0, 0, 1), 1)}
+MADE = {"Poly": (3, (1, 2)), "Field": (3, 2), "Curve": (Poly(3, (0, 1)),), "Change": (3, 1, (1, 0, 0, 1), 1),
+        "Function": (Curve.read(3, "x"), Poly(3, (1,)), Poly(3, ()), Poly(3, (0, 1))), "Divisor": (Curve.read(3, "x"), {})}
 CONSTANTS = {
     "twinsheets.base.numbers": {"MAX_FACTORED": 10 ** 12, "MAX_LETTERS": 8},
     "twinsheets.poly.polys": {"MAX_ENTRIES": 1000},
@@ -67,6 +84,9 @@ CONSTANTS = {
     "twinsheets.curve.curves": {"MAX_DEGREE": 8},
     "twinsheets.curve.places": {"MAX_DEGREE": 8},
     "twinsheets.curve.changes": {"MAX_WALKED": 13},
+    "twinsheets.zeta.counts": {"MAX_WALKED": 3000, "MAX_FAR": 200},
+    "twinsheets.divisor.functions": {"MAX_POWER": 60},
+    "twinsheets.divisor.divisors": {"MAX_COEFFICIENT": 200},
 }
 GENERATORS = (("twinsheets.poly.factors", "irreducibles"), ("twinsheets.field.fields", "points_off"),
               ("twinsheets.curve.places", "places"), ("twinsheets.curve.changes", "each_change"))

@@ -10,7 +10,7 @@ PACKAGE = ROOT / "twinsheets"
 FILES = sorted(PACKAGE.rglob("*.py"))
 # Of all builtins these are called; the error classes are derived from, or raised.
 CALLED = {"len", "range", "enumerate", "zip", "min", "max", "sum", "sorted", "int", "str", "bool", "list", "tuple",
-          "isinstance", "all", "iter", "property", "classmethod", "NotImplemented", "ValueError", "TypeError", "KeyError",
+          "dict", "isinstance", "all", "iter", "property", "classmethod", "NotImplemented", "ValueError", "TypeError", "KeyError",
           "IndexError", "ArithmeticError", "OverflowError", "RuntimeError"}
 # Nodes that the language does not have, or that the package does without.
 BARRED = (ast.AsyncFunctionDef, ast.AsyncFor, ast.AsyncWith, ast.Await, ast.Global, ast.Nonlocal, ast.GeneratorExp,
@@ -122,6 +122,26 @@ class LanguageTest(unittest.TestCase):
                                 and ast.List in (type(part.value.left), type(part.value.right))
                                 for target in part.targets if isinstance(target, ast.Name)}
                     self.assertEqual(repeated & set(changed_lists(node)), set(), (path, node.name))
+
+    def test_properties(self):
+        # No class gives an attribute the name of a property, whosever it is.
+        told, given = set(), set()
+        for _, tree in trees():
+            for node in ast.walk(tree):
+                if isinstance(node, ast.FunctionDef) and any(getattr(mark, "id", None) == "property"
+                                                             for mark in node.decorator_list):
+                    told.add(node.name)
+                elif isinstance(node, ast.Attribute) and isinstance(node.ctx, ast.Store):
+                    given.add(node.attr)
+        self.assertTrue(told)
+        self.assertEqual(told & given, set())
+
+    def test_generators(self):
+        # No other function or method has a generator's name.
+        named = [node for _, tree in trees() for node in ast.walk(tree) if isinstance(node, ast.FunctionDef)]
+        for node in named:
+            if any(isinstance(part, ast.Yield) for part in ast.walk(node)):
+                self.assertEqual([other.name for other in named].count(node.name), 1, node.name)
 
     def test_strings(self):
         for path, tree in trees():

@@ -146,6 +146,35 @@ class SumTest(Refusals, unittest.TestCase):
                     for degree in range(len(f) - 1, top + 1):
                         self.assertEqual(sign_sum(Poly(p, f), degree), 0)
 
+    def test_against_adding_up(self):
+        # All degrees with at most 3000 polynomials; the sign itself is tested above.
+        for p, top, many in ((3, 7, 2), (5, 4, 3), (7, 4, 1), (11, 3, 1), (13, 2, 2), (31, 1, 2)):
+            squares = [plain.power(p, row, 2) for row in ((0, 1), (1, 1), (2, 0, 1), (1, 2, 1), (0, 2))]
+            rows = [(), (1,), (2,), (p - 1,)] + squares + [plain.scale(p, row, 2) for row in squares]
+            rows += [plain.times(p, squares[2], (0, 1)), plain.times(p, squares[1], (1, 0, 1))]
+            for size in list(range(2, 7)) + [8, 9, 12, 17, 30]:
+                rows += [row for row in plain.some_rows(p, 500, 30, seed=7) if len(row) == size][:many]
+            for degree in range(top + 1):
+                monics = [Poly(p, u) for u in plain.monics(p, degree)]
+                for row in rows if len(monics) < 1000 else rows[::2]:
+                    f = Poly(p, row)
+                    self.assertEqual(sign_sum(f, degree), sum(sign(f, u) for u in monics), (p, row, degree))
+
+    def test_residues_times_squares(self):
+        for p, top in ((3, 7), (5, 4), (7, 4)):
+            for row in plain.some_rows(p, 12, 5):
+                for lead in range(1, p):
+                    f = Poly(p, plain.scale(p, plain.power(p, row, 2), lead))
+                    self.assertIs(signs.is_scaled_square(p, f.entries), True)
+                    # Signs are those of a residue, but 0 where there is a common factor.
+                    held = Poly(p, (lead,)) if row else f
+                    told = sum(sign(held, Poly(p, u)) for u in plain.monics(p, 2) if row and plain.common(p, row, u) == (1,))
+                    self.assertEqual(sign_sum(f, 2), told)
+                    for further in ((0, 1), (1, 0, 1), (2, 1)):
+                        if row and plain.is_square_free(p, further):
+                            product = plain.times(p, f.entries, further)
+                            self.assertIs(signs.is_scaled_square(p, product), False)
+
     def test_bound(self):
         for p, top in ((3, 7), (5, 4), (7, 4), (11, 3), (13, 3), (17, 2), (31, 2)):
             self.assertLessEqual(p ** top, 3000)

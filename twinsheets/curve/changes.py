@@ -26,8 +26,13 @@ class Change:
         inverse = inverse_of(prime, first)
         self.prime = prime
         self.genus = genus
-        self.table = tuple([entry * inverse % prime for entry in table])
         self.scale = scale * int_power(first, genus + 1) % prime
+        self._table = tuple([entry * inverse % prime for entry in table])
+
+    @property
+    def table(self):
+        """The table of the normal form."""
+        return self._table
 
     def then(self, other):
         """The change that leads where the other one leads what this one has led."""

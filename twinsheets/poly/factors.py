@@ -4,7 +4,7 @@ from twinsheets.base.numbers import check_count, check_prime, int_power
 from twinsheets.errors import InvalidOperation, TooMany
 from twinsheets.poly.polys import Poly, check_poly, poly_of
 from twinsheets.poly.rows import ONE, X, row_at, row_common, row_derivative, row_difference, row_divided, row_monic
-from twinsheets.poly.rows import row_number, row_quotient, row_rest, row_sum, row_value, trimmed
+from twinsheets.poly.rows import row_number, row_product, row_quotient, row_rest, row_sum, row_value, trimmed
 
 MAX_PARTED = 60
 MAX_LISTED = 20
@@ -49,7 +49,7 @@ def raised(poly, times):
 def by_degrees(poly):
     """The dict from the degrees of the factors to the product of all factors of each degree, taken once."""
     check_parted(poly)
-    products = degree_products(poly.prime, poly.entries)
+    products = degree_products(poly.prime, poly.entries, poly.degree)
     return {degree: poly_of(poly.prime, row) for degree, row in products.items()}
 
 
@@ -186,14 +186,17 @@ def is_row_irreducible(prime, row):
     return True
 
 
-def degree_products(prime, row):
-    """The dict from the degrees of the factors of a row, other than zero, to the product of those of each degree."""
+def degree_products(prime, row, most):
+    """The dict from the degrees of the factors of a row, other than zero, to the product of those of each degree.
+
+    Factors of greater degrees than this one are not looked for; one can be told all the same.
+    """
     found = {}
     row = row_monic(prime, row)
     table = frobenius_table(prime, row)
     power = row_rest(prime, X, row)
     degree = 0
-    while len(row) > 1:
+    while len(row) > 1 and degree < most:
         degree = degree + 1
         # All factors of lesser degree are gone: two further ones do not fit.
         if len(row) - 1 < 2 * degree:
@@ -213,6 +216,19 @@ def row_without(prime, row, product):
         row = row_quotient(prime, row, product)
         product = row_common(prime, row, product)
     return row
+
+
+def row_radical(prime, row):
+    """The product of all factors of a row other than zero, each of them once."""
+    radical = ONE
+    row = row_monic(prime, row)
+    while len(row) > 1:
+        shared = row_common(prime, row, row_derivative(prime, row))
+        single = row_quotient(prime, row, shared)
+        radical = row_product(prime, radical, single)
+        # Behind these factors a polynomial of x ** p is left, which is the p-th power of one of x.
+        row = row_without(prime, shared, row_common(prime, shared, single))[::prime]
+    return radical
 
 
 def equal_parts(prime, product, degree):
@@ -260,7 +276,7 @@ def pieces_by(prime, piece, trace, degree):
 def factor_rows(prime, row):
     """The ascending list of the monic irreducible factors of a row other than zero."""
     found = []
-    for degree, product in degree_products(prime, row).items():
+    for degree, product in degree_products(prime, row, len(row)).items():
         found.extend(equal_parts(prime, product, degree))
     return [factor for _, factor in sorted([(row_number(prime, factor), factor) for factor in found])]
 

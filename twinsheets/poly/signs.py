@@ -1,11 +1,13 @@
 """Signs of polynomials, and their roots modulo a polynomial."""
 
 from twinsheets.base.numbers import MAX_INTEGER, check_count, int_power, is_power_above, residue_root
+from twinsheets.base.walks import sign_sums
 from twinsheets.errors import InvalidPoly, TooMany
 from twinsheets.poly.division import is_row_square_free, row_joined
 from twinsheets.poly.factors import factor_rows, is_row_irreducible
 from twinsheets.poly.polys import Poly, check_one_prime, check_poly, poly_of
 from twinsheets.poly.rows import ONE, row_at, row_monic, row_negative, row_number, row_power_rest, row_product, row_rest
+from twinsheets.poly.rows import trimmed
 
 MAX_SUMMED = 3000
 MAX_ROOTS = 1000
@@ -31,8 +33,10 @@ def sign_sum(f, degree):
     check_count(degree, 0, MAX_INTEGER)
     if is_power_above(f.prime, degree, MAX_SUMMED):
         raise TooMany(MAX_SUMMED)
-    first = int_power(f.prime, degree)
-    return sum([row_sign(f.prime, f.entries, row_at(f.prime, number)) for number in range(first, 2 * first)])
+    # From its own degree on, the sums are 0 but for a residue times a square.
+    if degree >= f.degree and not is_scaled_square(f.prime, f.entries):
+        return 0
+    return sign_sums(f.prime, f.entries, degree)[degree]
 
 
 def is_square_modulo(f, u):
@@ -123,6 +127,23 @@ def lead_sign(prime, residue, modulus):
     if len(modulus) % 2 or residue_root(prime, residue) is not None:
         return 1
     return -1
+
+
+def is_scaled_square(prime, row):
+    """Whether a row is a residue times the square of a row."""
+    if not row:
+        return True
+    if len(row) % 2 == 0:
+        return False
+    row = row_monic(prime, row)
+    # The only monic row that can be the root, the greatest power first: each entry but the first is told twice.
+    high, half = row[::-1], (prime + 1) // 2
+    root = [1]
+    for at in range(1, len(row) // 2 + 1):
+        known = sum([root[back] * root[at - back] for back in range(1, at)])
+        root.append((high[at] - known) * half % prime)
+    told = trimmed(root[::-1])
+    return row_product(prime, told, told) == row
 
 
 def row_sign(prime, row, modulus):

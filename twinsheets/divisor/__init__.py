@@ -1,0 +1,1 @@
+"""Functions on a curve, and divisors."""
