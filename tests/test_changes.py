@@ -337,22 +337,12 @@ class BetweenTest(Refusals, unittest.TestCase):
         moved = [one for one in own_changes(curve) if led(curve, one, ("rim", 0)) != ("rim", 0)]
         self.assertTrue(moved)
         # Curves of one kind are led to one another by changes with c = 0, if by any.
-        one, other = Curve.read(3, "x^5+2x+1"), None
+        one = Curve.read(3, "x^5+x^2+2x")
+        ends = {}
         for change in each_change(3, 2):
-            other = changed(one, change)
-            ways = [way for way in each_change(3, 2) if changed(one, way) == other]
-            if other.kind == one.kind and all(way.table[2] for way in ways):
-                break
-        else:
-            # QUINT has one ramified place of degree 1, its rim: take one that has more of them.
-            one = Curve.read(3, "x^5+x^2+2x")
-            found = []
-            for change in each_change(3, 2):
-                other = changed(one, change)
-                ways = [way for way in each_change(3, 2) if changed(one, way) == other]
-                if other.kind == one.kind and all(way.table[2] for way in ways):
-                    found.append(other)
-            self.assertTrue(found)
+            ends.setdefault(changed(one, change).f.entries, []).append(change)
+        found = [ways for row, ways in ends.items() if plain.kind(3, row) == "one" and all(way.table[2] for way in ways)]
+        self.assertTrue(found)
         # Curves with equally many points over the fields with p and with p * p members are led to one another.
         rows = plain.all_curve_rows(3, 5)
         told = {}

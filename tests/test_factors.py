@@ -82,6 +82,24 @@ class PartsTest(Refusals, unittest.TestCase):
             for lead, chosen in some_products(p):
                 self.check_parts(product_of(p, lead, chosen), chosen)
 
+    def test_radicals(self):
+        for p in (3, 5, 7):
+            for lead, chosen in some_products(p):
+                for power in (1, 2, p, p + 1, p * p):
+                    row = product_of(p, lead, chosen).power(power).entries
+                    told = product_of(p, 1, [part for part, _ in counted(p, chosen)])
+                    self.assertEqual(factors.row_radical(p, row), told.entries)
+            self.assertEqual(factors.row_radical(p, (2,)), (1,))
+
+    def test_degrees_up_to_a_bound(self):
+        for p in (3, 5):
+            for lead, chosen in some_products(p):
+                row = product_of(p, lead, chosen).entries
+                found = factors.degree_products(p, row, 2)
+                self.assertLessEqual({len(part) - 1 for part in chosen if len(part) < 4}, set(found))
+                for degree, product in found.items():
+                    self.assertEqual(product, product_of(p, 1, sorted({part for part in chosen if len(part) == degree + 1})).entries)
+
     def test_powers_with_the_prime(self):
         for p in (3, 5, 7):
             for row in ((1, 1), next(row for row in plain.monics(p, 2) if plain.is_irreducible(p, row))):

@@ -123,6 +123,16 @@ class LanguageTest(unittest.TestCase):
                                 for target in part.targets if isinstance(target, ast.Name)}
                     self.assertEqual(repeated & set(changed_lists(node)), set(), (path, node.name))
 
+    def test_returns_of_texts_and_lengths(self):
+        for path, tree in trees():
+            for node in ast.walk(tree):
+                if isinstance(node, ast.FunctionDef) and node.name in ("__str__", "__len__"):
+                    self.assertIsInstance(node.body[-1], ast.Return)
+                    for part in ast.walk(node):
+                        if isinstance(part, ast.Return):
+                            told = ast.unparse(part.value)
+                            self.assertRegex(told, r"^(f?['\"]|len\()", (path, told))
+
     def test_properties(self):
         # No class gives an attribute the name of a property, whosever it is.
         told, given = set(), set()

@@ -24,20 +24,19 @@ RULES = {
 
 def sign_total(prime, row, degree):
     """The sum over the field of 1 where the value of a row is a square other than 0, and of -1 where it is none."""
-    # No entry of a sum of powers, each times a residue, runs into the next one.
-    width = len(f"{(prime - 1) * (prime - 1) * len(row):b}")
+    # So wide that no entry of a sum of powers, each times a residue, runs into the next one.
+    width = ((prime - 1) * (prime - 1) * len(row)).bit_length()
     signs, powers = walked(prime, degree, width)
     steps = len(powers)
     terms = [(at, entry) for at, entry in enumerate(row) if entry]
-    packed = powers[0] * row[0] if row else 0
-    # The values at a member and at its p-th power are squares both, or neither is.
-    members = [(0, packed, 1)]
+    # The value at 0, and one of each orbit: the value at a p-th power is a square just if that at the member is.
+    values = [(powers[0] * row[0] if row else 0, 1)]
     for start, size in orbits(prime, steps):
-        members.append((start, sum([entry * powers[start * at % steps] for at, entry in terms]), size))
+        values.append((sum([entry * powers[start * at % steps] for at, entry in terms]), size))
     mask = (1 << width) - 1
     digits = [(at * width, int_power(prime, at)) for at in range(degree)]
     total = 0
-    for _, packed, size in members:
+    for packed, size in values:
         number = sum([(packed >> shift & mask) % prime * weight for shift, weight in digits])
         total = total + signs[number] * size
     return total

@@ -117,7 +117,9 @@ class Function:
 
     def __str__(self):
         top = str(self.a) if self.b.is_zero else f"{self.a}+({self.b})y"
-        return top if self.c.degree == 0 else f"({top})/({self.c})"
+        if self.c.degree > 0:
+            return f"({top})/({self.c})"
+        return f"{top}"
 
 
 def function_of(curve, triple):

@@ -49,7 +49,8 @@ def sum_of_signs(curve, degree):
 def table_of(curve):
     """The table whose determinant is L modulo p."""
     check_curve(curve)
-    prime, sizes = curve.prime, range(1, curve.genus + 1)
+    prime = curve.prime
+    sizes = range(1, curve.genus + 1)
     power = row_power(prime, curve.f.entries, (prime - 1) // 2)
     return tuple([tuple([entry_at(power, line * prime - column) for column in sizes]) for line in sizes])
 
@@ -60,8 +61,7 @@ def by_table(curve):
     prime = curve.prime
     lines = []
     for line, entries in enumerate(table):
-        ones = [int(line == column) for column in range(len(table))]
-        lines.append([trimmed((one, -entry % prime)) for one, entry in zip(ones, entries)])
+        lines.append([trimmed((int(line == column), -entry % prime)) for column, entry in enumerate(entries)])
     found = determinant(prime, lines)
     return tuple([entry_at(found, at) for at in range(curve.genus + 1)])
 
@@ -131,7 +131,7 @@ def power_sums(entries, most):
 
 
 def points_told(curve, most):
-    """The list of the numbers of points over the fields of the degrees up to this one; the first one is none."""
+    """The list of the numbers of points over the fields of the degrees up to this one; nothing is told by the first."""
     sums = power_sums(l_of(curve), most)
     return [int_power(curve.prime, at) + 1 - total for at, total in enumerate(sums)]
 
