@@ -155,7 +155,8 @@ class BoundsTest(Refusals, unittest.TestCase):
             met = [-4 * p, 0, 1]
             for rows, told in (([met], True), ([met, [-1, 1]], True), ([met, [3, 1]], True), ([met, [0, 1]], True),
                                ([[-4 * p - 1, 0, 1]], False), ([[1 - 4 * p, 0, 1]], True),
-                               ([[-4 * p - 1, 0, 1], [0, 1]], False), ([[1 - 4 * p, 0, 1], [2, 1]], True)):
+                               ([[-4 * p - 1, 0, 1], [0, 1]], False), ([[1 - 4 * p, 0, 1], [2, 1]], True),
+                               ([[1 - 4 * p, 0, 1], [0, 1]], True), ([[0, 1]] * 3, True), ([[0, 1]] * 2, True)):
                 row = product_of(rows)
                 self.assertEqual(sums_row(p, from_sums(p, row)), tuple(row))
                 self.assertIs(are_bounded(p, from_sums(p, row)), told, (p, rows))

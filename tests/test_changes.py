@@ -310,6 +310,15 @@ class BetweenTest(Refusals, unittest.TestCase):
                     for change in (TURN, plain_change(5, 2), plain_change(3, 3), plain_change(31, 1)):
                         self.assertIs(is_change(one, other, change), False)
 
+    def test_equal_entries_of_unlike_primes(self):
+        for text in ("x", "x^2+1", "x^3+2x+1", "x^5+2x+1", "x^7+x+1"):
+            one, other = Curve.read(3, text), Curve.read(7, text)
+            self.assertIsNone(between(one, other))
+            self.assertIsNone(between(other, one))
+            for change in (plain_change(3, one.genus), plain_change(7, one.genus)):
+                self.assertIs(is_change(one, other, change), False)
+                self.assertIs(is_change(other, one, change), False)
+
     def test_values_of_every_kind(self):
         for value in NO_CHANGES + (None, plain_change(3, 1), plain_change(5, 2)):
             self.assertIs(is_change(QUINT, QUINT, value), False)

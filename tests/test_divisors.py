@@ -303,7 +303,14 @@ class FunctionsTest(Refusals, unittest.TestCase):
                 self.refused(divisor_of, (Function(curve, *args),), TooMany, limit=8)
             divisor = divisor_of(Function(curve, eight, nothing, x))
             self.assertEqual((divisor.degree, {len(place[0]) - 1 for place in divisor if place[0] != "rim"}), (0, {1, 8}))
-        # The norm of a + b y is irreducible of degree 9, or has such a factor.
+        # Beside factors of all lesser degrees, too.
+        product = one
+        for degree in range(1, 9):
+            product = product * least_irreducible(3, degree)
+        self.assertEqual(divisor_of(Function(QUINT, product, nothing, one)).at(RIM), -72)
+        self.refused(divisor_of, (Function(QUINT, product * nine, nothing, one),), TooMany, limit=8)
+        self.refused(divisor_of, (Function(QUINT, one, nothing, product * nine),), TooMany, limit=8)
+        # The norm of a + b y has an irreducible factor of degree 9, or more.
         found = 0
         for row in plain.monics(3, 4):
             function = Function(SEPT, Poly(3, row), Poly(3, (1, 1)), one)

@@ -5,6 +5,12 @@ import builtins
 import unittest
 from pathlib import Path
 
+from tests.test_interface import FUNCTIONS
+from tests.test_interface import METHODS as METHODS_LISTED
+from twinsheets import errors
+
+# The error classes are there before what raises them.
+ERRORS = [name for name in vars(errors) if name[0] != "_"]
 ROOT = Path(__file__).resolve().parent.parent
 PACKAGE = ROOT / "twinsheets"
 FILES = sorted(PACKAGE.rglob("*.py"))
@@ -102,6 +108,21 @@ class LanguageTest(unittest.TestCase):
             local = {node.id for node in ast.walk(tree) if isinstance(node, ast.Name) and isinstance(node.ctx, ast.Store)}
             local |= {node.arg for node in ast.walk(tree) if isinstance(node, ast.arg)}
             self.assertEqual(local & set(imported + classes), set(), path)
+
+    def test_private_names_are_used(self):
+        for path, tree in trees():
+            private = {target.id for node in tree.body if isinstance(node, ast.Assign) for target in node.targets
+                       if target.id.startswith("_")}
+            used = {node.id for node in ast.walk(tree) if isinstance(node, ast.Name) and isinstance(node.ctx, ast.Load)}
+            self.assertEqual(private - used, set(), path)
+
+    def test_functions_are_used(self):
+        # By the package itself, or listed in the interface.
+        listed = {name for names in FUNCTIONS.values() for name in names}
+        named = {node.name for _, tree in trees() for node in tree.body if isinstance(node, (ast.FunctionDef, ast.ClassDef))}
+        used = {node.id for _, tree in trees() for node in ast.walk(tree)
+                if isinstance(node, ast.Name) and isinstance(node.ctx, ast.Load)}
+        self.assertEqual(named - listed - used - {name for _, name in METHODS_LISTED} - set(ERRORS), set())
 
     def test_nodes(self):
         for path, tree in trees():

@@ -110,7 +110,6 @@ def divisor_of(function):
 
 def place_divisor(curve, place):
     """The divisor with the coefficient 1 at a place alone."""
-    check_curve(curve)
     check_place(curve, place)
     return Divisor(curve, Summed(((place, 1),)))
 
@@ -157,12 +156,6 @@ def divisor_with(curve, table):
         if not -MAX_COEFFICIENT <= many <= MAX_COEFFICIENT:
             raise TooMany(MAX_COEFFICIENT)
     return Divisor(curve, Summed(ascending_pairs(table)))
-
-
-def check_divisor(value):
-    """Refuse what is no divisor."""
-    if not isinstance(value, Divisor):
-        raise InvalidDivisor("not a divisor")
 
 
 def spot_text(spot, many):

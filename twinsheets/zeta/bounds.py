@@ -3,8 +3,6 @@
 from twinsheets.base.numbers import check_prime, int_power, is_integer
 from twinsheets.errors import InvalidPaper
 
-_MAX_GENUS = 3
-
 
 def sums_row(prime, value):
     """The row of sums of a tuple."""
