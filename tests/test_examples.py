@@ -4,10 +4,15 @@ import unittest
 
 from twinsheets import errors
 from twinsheets.base import numbers
+from twinsheets.chain import chains
+from twinsheets.coded import codes
 from twinsheets.curve import changes, curves, places
-from twinsheets.divisor import divisors, functions
+from twinsheets.divisor import divisors, functions, spaces
+from twinsheets.family import families
 from twinsheets.field import fields
+from twinsheets.group import kinds, orders, triples
 from twinsheets.poly import division, factors, polys, signs
+from twinsheets.use import bench
 from twinsheets.zeta import bounds, counts
 
 EXAMPLES = r'''
@@ -101,6 +106,83 @@ raises InvalidChange
 [1, 2, True, 0]
 >>> less.value_at(((0, 1), (2,)))
 raises InvalidOperation
+>>> QRIM, QPOINT, QOTHER = place_divisor(QUINT, ("rim", 0)), place_divisor(QUINT, ((0, 1), (1,))), place_divisor(QUINT, ((0, 1), (2,)))
+>>> [size_of(QRIM), size_of(QRIM.times(2)), size_of(QRIM.times(3)), size_of(QRIM.times(5)), size_of(QRIM.times(-1)), size_of(QPOINT.times(2)), size_of(QPOINT.times(3))]
+[1, 2, 2, 4, 0, 1, 2]
+>>> [gaps(QUINT, ("rim", 0)), gaps(QUINT, ((0, 1), (1,))), gaps(EVEN, ("rim", 1)), canonical(QUINT) == QRIM.times(2), size_of(canonical(EVEN)), size_of(canonical(NONE))]
+[(1, 3), (1, 2), (1, 2), True, 2, 2]
+>>> X, ONE = Function(QUINT, Poly(3, (0, 1)), Poly(3, ()), Poly(3, (1,))), Function(QUINT, Poly(3, (1,)), Poly(3, ()), Poly(3, (1,)))
+>>> [is_between(QPOINT + QOTHER, QRIM.times(2), X), is_between(QPOINT + QOTHER, QRIM.times(2), ONE), are_alike(QPOINT, QOTHER), function_between(QPOINT, QRIM), is_basis(QRIM.times(3), (ONE, X)), is_basis(QRIM.times(3), (ONE, ONE + ONE))]
+[True, False, False, None, True, False]
+>>> [is_in_space(QRIM.times(2), X), is_in_space(QRIM, X), is_basis(QRIM.times(-1), ()), len(space_of(QRIM.times(9)))]
+[True, False, True, 8]
+>>> one, other = Triple(QUINT, Poly.read(3, "x"), Poly.read(3, "1")), Triple(QUINT, Poly.read(3, "x+2"), Poly.read(3, "1"))
+>>> [str(one.plus(one)), str(one.plus(other)), str(one.plus(one).plus(one)), str(one.opposite()), str(one.minus(one)), str(one.times(3)), one.times(29) == zero_triple(QUINT)]
+['(x^2, x+1, 0)', '(x^2+2x, 1, 0)', '(x^2+2x+1, x, 0)', '(x, 2, 0)', '(1, 0, 0)', '(x^2+2x+1, x, 0)', True]
+>>> paper, two = sum_told(one.times(2), one), one.times(2)
+>>> [paper[0] == one.times(3), is_paper(two.divisor() + one.divisor(), paper), is_paper(one.divisor(), paper), triple_of(one.divisor())[0] == one, one.divisor().degree]
+[True, True, False, True, 0]
+>>> [str(zero_triple(EVEN)), is_triple(EVEN, (Poly.read(3, "1"), Poly(3, ()), 3)), is_triple(QUINT, (Poly.read(3, "x"), Poly.read(3, "x"), 0)), len(list(all_triples(QUINT)))]
+['(1, 0, 1)', False, False, 29]
+>>> Triple(QUINT, Poly.read(3, "x"), Poly(3, ()))
+raises InvalidTriple
+>>> ROOT, PART = Triple(FIVE, Poly.read(5, "x+3"), Poly.read(5, "0"), 0), Triple(FIVE, Poly.read(5, "x^2+x+1"), Poly.read(5, "0"), 0)
+>>> [order_of(ROOT), order_paper(PART) == (2, ((2, PART),)), is_order_paper(ROOT, (2, ((2, PART),))), is_order_paper(ROOT, (4, ((2, ROOT),)))]
+[2, True, False, False]
+>>> [logarithm(ROOT, zero_triple(FIVE)), logarithm(ROOT, ROOT), logarithm(ROOT, PART), order_of(zero_triple(FIVE)), order_paper(zero_triple(FIVE))]
+[0, 1, None, 1, (1, ())]
+>>> [kinds(QUINT), kinds(EVEN), kinds(SEPT), orders_met(QUINT), orders_met(EVEN), len(makers(SEPT))]
+[(29,), (21,), (34,), {1: 1, 29: 28}, {1: 1, 3: 2, 7: 6, 21: 12}, 1]
+>>> [count_halves(FIVE), halves(FIVE) == (zero_triple(FIVE), ROOT, PART, ROOT.plus(PART)), count_halves(QUINT), count_halves(SEPT), is_makers(QUINT, makers(QUINT)), is_makers(QUINT, ())]
+[4, True, 1, 2, True, False]
+>>> kinds(NONE)
+raises InvalidOperation
+>>> first, second = chain(EVEN, 2)
+>>> [str(root_part(EVEN)), str(first[0]), str(second[0]), str(second[1]), str(second[2]), length_of(EVEN), ideal_classes(EVEN)]
+['x^3+x^2', 'x^3+x^2', '2x^3+2x^2', 'x^3+x^2', '1', 3, 7]
+>>> unit = least_unit(EVEN)
+>>> [str(unit.a), str(unit.b), unit_power(EVEN, 1) == unit, unit_parts(EVEN, unit_power(EVEN, -2)), is_unit(EVEN, unit * unit)]
+['x^3+x^2', '1', True, (1, -2), True]
+>>> LONG = Curve.read(3, "x^6+x^2+x+1")
+>>> third = chain(LONG, 3)[2]
+>>> [str(third[0]), str(third[1]), str(third[2]), length_of(LONG), ideal_classes(LONG), len(reduced_pairs(EVEN)), len(rounds(EVEN)), len(rounds(LONG)[0])]
+['2x^2', 'x^3+1', 'x', 21, 1, 15, 7, 15]
+>>> [solve(EVEN, Poly.read(3, "x")), solve(LONG, Poly.read(3, "x+1")), is_solution(LONG, Poly.read(3, "x"), solve(LONG, Poly.read(3, "x"))), is_unit(EVEN, None)]
+[None, None, True, False]
+>>> length_of(QUINT)
+raises InvalidCurve
+>>> rim = QUINT.rims[0]
+>>> code = Code(Divisor(QUINT, {rim: 4}), code_points(Divisor(QUINT, {rim: 4})))
+>>> [code.places, str(code), code.rows]
+[(((0, 1), (1,)), ((0, 1), (2,)), ((1, 1), (1,)), ((1, 1), (2,)), ((2, 1), (1,)), ((2, 1), (2,))), 'code of length 6 and size 3', ((1, 1, 0, 0, 0, 0), (0, 0, 1, 1, 0, 0), (0, 0, 0, 0, 1, 1))]
+>>> [code.least_distance(), (1, 1, 0, 0, 2, 2) in code, (1, 0, 0, 0, 0, 0) in code, code.mend((1, 1, 0, 0, 0, 1)), code.turned()]
+[2, True, False, None, ((1, 2, 0, 0, 0, 0), (0, 0, 1, 2, 0, 0), (0, 0, 0, 0, 1, 2))]
+>>> Code(Divisor(QUINT, {rim: 4}), ())
+raises InvalidCode
+>>> [count_square_free(3, 2), count_square_free(3, 5), [str(one) for one in square_free_ones(3, 2)]]
+[6, 162, ['x^2+1', 'x^2+2', 'x^2+x', 'x^2+x+2', 'x^2+2x', 'x^2+2x+2']]
+>>> [excess_sum(3, 2), excess_sum(3, 3), excess_sum(7, 6), excess_of(Poly.read(5, "x^5+x+1")), excess_of(Poly.read(3, "x^2+1"))]
+[-6, 0, -42, 0, -1]
+>>> [count_curves(3, 2), count_curves(3, 0), mass(3, 2), mass(5, 0), mass(7, 1)]
+[1296, 18, (27, 1), (5, 24), (7, 1)]
+>>> [(str(head.f), many) for head, many in families(3, 0)]
+[('x', 4), ('x^2+1', 8)]
+>>> head, many = family_of(Curve.read(3, "2x^2+2x+1"))
+>>> [str(head.f), many]
+['x^2+1', 8]
+>>> bench, kept = Bench({"one": QUINT}), ("alike", "d", "e")
+>>> spot = Divisor(QUINT, {("rim", 0): -1, ((0, 1), (1,)): 1})
+>>> [bench.mark("d", "one", spot), bench.mark("e", "one", spot), bench.demand(kept), str(bench)]
+[((), ('divisor d on one: -(rim 0) + (x: 1)',)), ((), ('divisor e on one: -(rim 0) + (x: 1)',)), ((), ()), 'bench of 1 curves, 2 divisors, 1 pledges']
+>>> x = Function(QUINT, Poly.read(3, "x"), Poly(3, ()), Poly(3, (1,)))
+>>> [bench.carry("e", x), bench.changes, kept in bench, bench.names]
+[(('divisor e on one: -(rim 0) + (x: 1)',), ('divisor e on one: -3(rim 0) + 2(x: 1) + (x: 2)',)), 4, True, ('d', 'e', 'one')]
+>>> bench.turn("d")
+raises Refused(("alike", "d", "e"))
+>>> [bench.demand(("points", "one", 1, 7)), bench.demand(("classes", "one", 29)), bench.undo(many=2), bench.put("two", EVEN), bench.twist("two")]
+[((), ()), ((), ()), ((), ()), ((), ('curve two y^2 = x^6+2x^5+x^4+1 over 3',)), (('curve two y^2 = x^6+2x^5+x^4+1 over 3',), ('curve two y^2 = 2x^6+x^5+2x^4+2 over 3',))]
+>>> bench.twist("one")
+raises InvalidOperation
 '''
 
 
@@ -117,7 +199,7 @@ def names():
     """All names that the examples use, each from the module under which the document lists it."""
     found = {}
     for module in (errors, numbers, polys, division, factors, signs, fields, curves, places, changes, bounds, counts,
-                   functions, divisors):
+                   functions, divisors, spaces, triples, orders, kinds, chains, codes, families, bench):
         for name, value in vars(module).items():
             if getattr(value, "__module__", None) == module.__name__:
                 found[name] = value
@@ -129,7 +211,7 @@ class ExamplesTest(unittest.TestCase):
     def test_all(self):
         known = names()
         pieces = EXAMPLES.strip()[4:].split("\n>>> ")
-        self.assertEqual(len(pieces), 50)
+        self.assertEqual(len(pieces), 96)
         for piece in pieces:
             with self.subTest(example=piece):
                 line, _, told = piece.partition("\n")
@@ -141,12 +223,13 @@ class ExamplesTest(unittest.TestCase):
                     self.assertEqual(repr(eval(line, known)), told)
 
     def check_error(self, line, told, known):
-        name, _, value = told.partition("(")
+        name, sign, value = told.partition("(")
         with self.assertRaises(known[name]) as caught:
             eval(line, known)
         self.assertIs(type(caught.exception), known[name])
         if value:
-            self.assertEqual(caught.exception.value, int(value.rstrip(")")))
+            kept = list(vars(caught.exception).values())
+            self.assertEqual(kept, [eval(sign + value)])
 
 
 if __name__ == "__main__":

@@ -4,7 +4,9 @@ import inspect
 import unittest
 from importlib import import_module
 
+from twinsheets.coded.codes import Code
 from twinsheets.curve.curves import Curve
+from twinsheets.divisor.divisors import Divisor
 from twinsheets.poly.polys import Poly
 
 FUNCTIONS = {
@@ -38,6 +40,29 @@ FUNCTIONS = {
         "by_table": "curve", "l_of": "curve", "class_number": "curve", "points_over": "curve degree",
         "places_of": "curve degree", "l_over": "curve degree"},
     "twinsheets.divisor.divisors": {"divisor_of": "function", "place_divisor": "curve place"},
+    "twinsheets.divisor.spaces": {
+        "space_of": "divisor", "size_of": "divisor", "is_in_space": "divisor value", "is_basis": "divisor value",
+        "canonical": "curve", "function_between": "one other", "is_between": "one other value",
+        "are_alike": "one other", "gaps": "curve place"},
+    "twinsheets.group.triples": {
+        "is_triple": "curve value", "zero_triple": "curve", "triple_of": "divisor", "is_paper": "divisor value",
+        "sum_told": "one other", "all_triples": "curve"},
+    "twinsheets.group.orders": {
+        "order_of": "triple", "order_paper": "triple", "is_order_paper": "triple value", "logarithm": "base other"},
+    "twinsheets.group.kinds": {
+        "kinds": "curve", "makers": "curve", "is_makers": "curve value", "orders_met": "curve", "halves": "curve",
+        "count_halves": "curve"},
+    "twinsheets.chain.chains": {
+        "root_part": "curve", "chain": "curve many", "length_of": "curve", "least_unit": "curve",
+        "ideal_classes": "curve", "unit_power": "curve number", "is_unit": "curve value", "unit_parts": "curve unit",
+        "solve": "curve c", "is_solution": "curve c value", "is_reduced_pair": "curve value",
+        "next_pair": "curve pair", "reduced_pairs": "curve", "rounds": "curve"},
+    "twinsheets.coded.codes": {"code_points": "divisor", "is_turned": "code value"},
+    "twinsheets.family.families": {
+        "count_square_free": "prime degree", "square_free_ones": "prime degree", "excess_of": "poly",
+        "excess_sum": "prime degree", "count_curves": "prime genus", "family_of": "curve", "families": "prime genus",
+        "mass": "prime genus"},
+    "twinsheets.use.bench": {"is_pledge": "value"},
 }
 METHODS = {
     ("twinsheets.poly.polys", "Poly"): {
@@ -63,6 +88,19 @@ METHODS = {
         "__init__": "curve table", "__add__": "other", "__sub__": "other", "__neg__": "", "times": "many",
         "at": "place", "opposite": "", "__len__": "", "__iter__": "", "__contains__": "value", "__eq__": "other",
         "__str__": ""},
+    ("twinsheets.group.triples", "Triple"): {
+        "__init__": "curve u v n", "divisor": "", "plus": "other", "minus": "other", "opposite": "", "times": "number",
+        "__eq__": "other", "__str__": ""},
+    ("twinsheets.coded.codes", "Code"): {
+        "__init__": "divisor places", "word_of": "function", "function_of": "word", "words": "", "least_distance": "",
+        "lightest": "", "turned": "", "mend": "value", "__contains__": "value", "__len__": "", "__eq__": "other",
+        "__str__": ""},
+    ("twinsheets.use.bench", "Bench"): {
+        "__init__": "curves", "put": "name curve", "mark": "name home divisor", "add": "name one other",
+        "carry": "name function", "turn": "name", "twist": "name", "drop": "name", "rename": "names",
+        "demand": "pledge", "waive": "pledge", "undo": "many", "redo": "many", "trial": "", "during": "call",
+        "twin": "", "curve_named": "name", "divisor_named": "name", "home_of": "name", "__contains__": "value",
+        "__len__": "", "__iter__": "", "__eq__": "other", "__str__": ""},
 }
 PROPERTIES = {
     "Poly": ("prime", "entries", "degree", "lead", "number", "is_zero", "is_monic"),
@@ -71,10 +109,18 @@ PROPERTIES = {
     "Change": ("prime", "genus", "table", "scale"),
     "Function": ("curve", "a", "b", "c", "norm", "is_zero", "is_residue"),
     "Divisor": ("curve", "table", "degree", "is_positive"),
+    "Triple": ("curve", "u", "v", "n"),
+    "Code": ("limits", "places", "length", "size", "rows"),
+    "Bench": ("names", "lines", "pledges", "changes"),
 }
 # What an object of each class is made of.
 MADE = {"Poly": (3, (1, 2)), "Field": (3, 2), "Curve": (Poly(3, (0, 1)),), "Change": (3, 1, (1, 0, 0, 1), 1),
-        "Function": (Curve.read(3, "x"), Poly(3, (1,)), Poly(3, ()), Poly(3, (0, 1))), "Divisor": (Curve.read(3, "x"), {})}
+        "Function": (Curve.read(3, "x"), Poly(3, (1,)), Poly(3, ()), Poly(3, (0, 1))), "Divisor": (Curve.read(3, "x"), {}),
+        "Triple": (Curve.read(3, "x"), Poly(3, (1,)), Poly(3, ())),
+        "Code": (Divisor(Curve.read(3, "x"), {("rim", 0): 1}), (((0, 1), ()),)), "Bench": ({"one": Curve.read(3, "x")},)}
+# Methods with a default value, and parameters that are passed by keyword alone.
+DEFAULTS = {"Triple.__init__": {"n": 0}, "Bench.undo": {"many": 1}, "Bench.redo": {"many": 1}}
+KEYWORDS = ("Bench.undo", "Bench.redo")
 CONSTANTS = {
     "twinsheets.base.numbers": {"MAX_FACTORED": 10 ** 12, "MAX_LETTERS": 8},
     "twinsheets.poly.polys": {"MAX_ENTRIES": 1000},
@@ -87,9 +133,18 @@ CONSTANTS = {
     "twinsheets.zeta.counts": {"MAX_WALKED": 3000, "MAX_FAR": 200},
     "twinsheets.divisor.functions": {"MAX_POWER": 60},
     "twinsheets.divisor.divisors": {"MAX_COEFFICIENT": 200},
+    "twinsheets.divisor.spaces": {"MAX_SIZE": 60},
+    "twinsheets.group.triples": {"MAX_TRIPLES": 2000},
+    "twinsheets.group.orders": {"MAX_ORDER": 10 ** 6},
+    "twinsheets.group.kinds": {"MAX_GROUP": 2000},
+    "twinsheets.chain.chains": {"MAX_LENGTH": 2000, "MAX_POWER": 60},
+    "twinsheets.coded.codes": {"MAX_LENGTH": 40, "MAX_WORDS": 4000},
+    "twinsheets.family.families": {"MAX_FAMILY": 100000, "MAX_FAMILY_DEGREE": 200},
+    "twinsheets.use.bench": {"MAX_CURVES": 6, "MAX_DIVISORS": 12, "MAX_PLEDGES": 10},
 }
 GENERATORS = (("twinsheets.poly.factors", "irreducibles"), ("twinsheets.field.fields", "points_off"),
-              ("twinsheets.curve.places", "places"), ("twinsheets.curve.changes", "each_change"))
+              ("twinsheets.curve.places", "places"), ("twinsheets.curve.changes", "each_change"),
+              ("twinsheets.group.triples", "all_triples"), ("twinsheets.family.families", "square_free_ones"))
 
 
 class InterfaceTest(unittest.TestCase):
@@ -107,7 +162,12 @@ class InterfaceTest(unittest.TestCase):
             for method, parameters in methods.items():
                 held = vars(told)[method]
                 function = held.__func__ if isinstance(held, classmethod) else held
-                self.assertEqual(list(inspect.signature(function).parameters)[1:], parameters.split(), method)
+                told_ones = list(inspect.signature(function).parameters.values())[1:]
+                self.assertEqual([one.name for one in told_ones], parameters.split(), method)
+                label = f"{name}.{method}"
+                self.assertEqual({one.name: one.default for one in told_ones if one.default is not one.empty},
+                                 DEFAULTS.get(label, {}))
+                self.assertTrue(all((one.kind is one.KEYWORD_ONLY) == (label in KEYWORDS) for one in told_ones))
 
     def test_properties(self):
         made = {name: getattr(import_module(module), name)(*MADE[name]) for module, name in METHODS}
@@ -123,6 +183,7 @@ class InterfaceTest(unittest.TestCase):
     def test_generators(self):
         for module, name in GENERATORS:
             self.assertTrue(inspect.isgeneratorfunction(getattr(import_module(module), name)))
+        self.assertTrue(inspect.isgeneratorfunction(Code.words))
 
 
 if __name__ == "__main__":

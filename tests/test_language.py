@@ -16,14 +16,14 @@ PACKAGE = ROOT / "twinsheets"
 FILES = sorted(PACKAGE.rglob("*.py"))
 # Of all builtins these are called; the error classes are derived from, or raised.
 CALLED = {"len", "range", "enumerate", "zip", "min", "max", "sum", "sorted", "int", "str", "bool", "list", "tuple",
-          "dict", "isinstance", "all", "iter", "property", "classmethod", "NotImplemented", "ValueError", "TypeError", "KeyError",
+          "dict", "isinstance", "all", "any", "iter", "property", "classmethod", "NotImplemented", "ValueError", "TypeError", "KeyError",
           "IndexError", "ArithmeticError", "OverflowError", "RuntimeError"}
 # Nodes that the language does not have, or that the package does without.
 BARRED = (ast.AsyncFunctionDef, ast.AsyncFor, ast.AsyncWith, ast.Await, ast.Global, ast.Nonlocal, ast.GeneratorExp,
           ast.Set, ast.SetComp, ast.Lambda, ast.Import, ast.Try, ast.AugAssign, ast.AnnAssign, ast.NamedExpr, ast.Div,
-          ast.YieldFrom, ast.With, ast.Delete, ast.Assert, ast.Starred)
+          ast.YieldFrom, ast.Delete, ast.Assert, ast.Starred)
 METHODS = {"__init__", "__eq__", "__str__", "__len__", "__iter__", "__call__", "__add__", "__sub__", "__mul__",
-           "__floordiv__", "__mod__", "__neg__", "__contains__", "__getitem__"}
+           "__floordiv__", "__mod__", "__neg__", "__contains__", "__getitem__", "__enter__", "__exit__"}
 NAMES = {"register", "mro", "elements", "open", "input", "law", "exit", "id", "dir", "vars", "help", "compile", "type"}
 
 

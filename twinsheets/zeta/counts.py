@@ -108,8 +108,13 @@ def l_over(curve, degree):
 def check_walked(curve):
     """Refuse what is no curve, and curves of too great a field."""
     check_curve(curve)
-    if is_power_above(curve.prime, curve.genus, MAX_WALKED):
+    if not is_counted(curve):
         raise TooMany(MAX_WALKED)
+
+
+def is_counted(curve):
+    """Whether the fields of a curve are small enough for its classes and points to be counted."""
+    return not is_power_above(curve.prime, curve.genus, MAX_WALKED)
 
 
 def turned_about(size, low):

@@ -1,0 +1,1 @@
+"""Codes of functions at places."""

@@ -1,0 +1,1 @@
+"""All curves of a genus, and the families that changes make of them."""

@@ -1,0 +1,1 @@
+"""A bench on which curves and divisors lie."""
