@@ -1,88 +1,15 @@
 """Functions with bounded poles, as pairs of short vectors of a lattice of rows.
 
-Off the rim a divisor lets just the functions (top / bottom) * (a + b y) whose a + b * root is
-divided by a modulus; the root is one of f modulo it. They are a lattice over the polynomials, of
-two vectors (a, b), and the rim bounds their degrees: the steps of the common divisor of the
-modulus and the root lead to the two shortest ones.
+The a + b y that an ideal lets are a lattice over the polynomials, of two vectors (a, b), and the
+rim bounds their degrees: the steps of the common divisor of the modulus and the root lead to the
+two shortest ones.
 """
 
 from twinsheets.base.numbers import inverse_of
-from twinsheets.curve.spots import RIM
+from twinsheets.divisor.ideals import ideal_of, ideal_product, let_over, over_factors
 from twinsheets.divisor.quotients import pair_norm, rim_order
-from twinsheets.poly.division import row_joined
-from twinsheets.poly.rows import ONE, row_difference, row_divided, row_monic, row_negative, row_power, row_product
-from twinsheets.poly.rows import row_quotient, row_rest, row_scaled, row_sum, trimmed
-
-
-def lifted_root(prime, f, factor, root, many):
-    """The root of f modulo a power of an irreducible row that is this root, other than zero, modulo the row itself."""
-    if many == 1:
-        return root
-    half = half_inverse(prime, factor, root)
-    known = 1
-    while known < many:
-        # Each step doubles the exponent up to which both the root and the inverse of its double hold.
-        known = min(2 * known, many)
-        modulus = row_power(prime, factor, known)
-        missing = row_difference(prime, row_product(prime, root, root), f)
-        root = row_rest(prime, row_difference(prime, root, row_product(prime, missing, half)), modulus)
-        met = row_product(prime, row_scaled(prime, root, 2), half)
-        half = row_rest(prime, row_product(prime, half, row_difference(prime, (2,), met)), modulus)
-    return root
-
-
-def half_inverse(prime, factor, root):
-    """The inverse of the double of a root modulo an irreducible row."""
-    # The steps of a common divisor, with the factors of the double alone.
-    before, after = factor, row_scaled(prime, root, 2)
-    found, further = (), ONE
-    while len(after) > 1:
-        quotient, rest = row_divided(prime, before, after)
-        before, after = after, rest
-        found, further = further, row_difference(prime, found, row_product(prime, quotient, further))
-    return row_scaled(prime, further, inverse_of(prime, after[0]))
-
-
-def ideal_of(curve, table):
-    """The tuple (top, bottom, modulus, root) for the functions that the places off the rim let."""
-    prime, f = curve.prime, curve.f.entries
-    top, bottom, modulus, root = ONE, ONE, ONE, ()
-    for factor, spots in over_factors(table).items():
-        common, zeros, rest = let_over(prime, spots)
-        if common > 0:
-            bottom = row_product(prime, bottom, row_power(prime, factor, common))
-        elif common < 0:
-            top = row_product(prime, top, row_power(prime, factor, -common))
-        if zeros:
-            rest = lifted_root(prime, f, factor, rest, zeros)
-            power = row_power(prime, factor, zeros)
-            root = rest if modulus == ONE else row_joined(prime, root, modulus, rest, power)
-            modulus = row_product(prime, modulus, power)
-    return top, bottom, modulus, root
-
-
-def over_factors(table):
-    """The dict from the rows of places off the rim to the lists of pairs of their roots and integers."""
-    found = {}
-    for (first, second), many in table.items():
-        if first != RIM and many:
-            found.setdefault(first, []).append((second, many))
-    return found
-
-
-def let_over(prime, spots):
-    """How often a factor may stand below, and how often which root must then be met, for the places over it."""
-    root, many = spots[0]
-    if root is None:
-        return many, 0, ()
-    if root == ():
-        common = -(-many // 2)
-        return common, 2 * common - many, ()
-    # Both places together are the factor; zeros are left where less is let.
-    other = spots[1][1] if len(spots) > 1 else 0
-    if many >= other:
-        return many, many - other, row_negative(prime, root)
-    return other, other - many, root
+from twinsheets.poly.rows import ONE, row_difference, row_divided, row_monic, row_negative, row_product
+from twinsheets.poly.rows import row_quotient, row_rest, row_sum, trimmed
 
 
 def root_series(curve, many):
@@ -140,11 +67,23 @@ def short_basis(curve, modulus, root, bounds):
 def let_basis(curve, table):
     """The tuple (top, bottom, basis) for all functions that a table of places lets."""
     top, bottom, modulus, root = ideal_of(curve, table)
-    less = len(bottom) - len(top)
-    # Where f has an odd degree, x has a pole of order 2 at the rim.
-    weight = 2 if curve.kind == "one" else 1
-    bounds = [table.get(rim, 0) + weight * less for rim in curve.rims]
+    bounds = moved(rim_entries(curve, table), rim_weight(curve) * (len(bottom) - len(top)))
     return top, bottom, short_basis(curve, modulus, root, bounds)
+
+
+def rim_entries(curve, table):
+    """The integers of a table at the places of the rim."""
+    return [table.get(rim, 0) for rim in curve.rims]
+
+
+def rim_weight(curve):
+    """The order of the pole of x at each place of the rim."""
+    return 2 if curve.kind == "one" else 1
+
+
+def moved(bounds, many):
+    """The bounds, each of them that much greater."""
+    return [bound + many for bound in bounds]
 
 
 def let_triples(curve, table):
@@ -180,3 +119,39 @@ def reduced(curve, modulus, root, bounds):
     if curve.kind == "two":
         n = rim_order(curve, (a, b, ONE), curve.rims[0][1]) + bounds[0]
     return u, v, n, a, b
+
+
+def let_size(curve, table):
+    """The size of the space of a table.
+
+    It is that of an ideal with a small modulus, to which each factor of that of the table leads.
+    """
+    prime = curve.prime
+    total = ONE, (), rim_entries(curve, table)
+    for factor, spots in over_factors(table).items():
+        common, many, root = let_over(prime, spots)
+        modulus, rest, bounds = total
+        total = modulus, rest, moved(bounds, rim_weight(curve) * common * (len(factor) - 1))
+        part = factor, root, [0 for _ in curve.rims]
+        while many:
+            if many % 2:
+                total = small_product(curve, total, part)
+            many = many // 2
+            if many:
+                part = small_product(curve, part, part)
+    modulus, root, bounds = total
+    return sum([room + 1 for room, _, _ in short_basis(curve, modulus, root, bounds) if room >= 0])
+
+
+def small_product(curve, one, other):
+    """The ideal of two, each with bounds at the rim, but for a function, in which the bounds are told."""
+    prime, weight = curve.prime, rim_weight(curve)
+    both, modulus, root = ideal_product(prime, curve.f.entries, one[:2], other[:2])
+    bounds = [first + second - weight * (len(both) - 1) for first, second in zip(one[2], other[2])]
+    if len(modulus) - 1 <= curve.genus + 1:
+        return modulus, root, bounds
+    # The ideal times that of (u, v) is a + b y; the opposite one of (u, v) times it is u.
+    u, v, _, a, b = reduced(curve, modulus, root, [1 for _ in curve.rims])
+    orders = [rim_order(curve, (a, b, ONE), rim[1]) for rim in curve.rims]
+    further = [bound + order + weight * (len(u) - 1) for bound, order in zip(bounds, orders)]
+    return u, row_negative(prime, v), further

@@ -6,7 +6,8 @@ from twinsheets.curve.places import check_place
 from twinsheets.curve.spots import RIM, spot_degree
 from twinsheets.divisor.divisors import Divisor, summed
 from twinsheets.divisor.functions import Function, check_one_curve, function_of, triple_of_function
-from twinsheets.divisor.lattices import ideal_of, let_basis, let_triples
+from twinsheets.divisor.ideals import ideal_of
+from twinsheets.divisor.lattices import let_size, let_triples
 from twinsheets.divisor.quotients import rim_order
 from twinsheets.errors import InvalidDivisor, InvalidPlace, TooMany
 from twinsheets.poly.rows import row_difference, row_divided, row_product, row_rest, row_scaled, row_sum, trimmed
@@ -117,8 +118,7 @@ def table_size(curve, table):
         return 0
     if degree > 2 * curve.genus - 2:
         return degree + 1 - curve.genus
-    _, _, basis = let_basis(curve, table)
-    return sum([room + 1 for room, _, _ in basis if room >= 0])
+    return let_size(curve, table)
 
 
 def function_with(curve, table):

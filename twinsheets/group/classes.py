@@ -4,7 +4,8 @@ All curves are of the kind "one" or "two" here, and nothing is checked.
 """
 
 from twinsheets.base.numbers import int_power
-from twinsheets.divisor.lattices import ideal_of, lifted_root, reduced
+from twinsheets.divisor.ideals import ideal_of, ideal_product, lifted_root
+from twinsheets.divisor.lattices import reduced
 from twinsheets.poly.division import row_joined
 from twinsheets.poly.factors import factor_rows, multiplicity
 from twinsheets.poly.rows import ONE, row_at, row_cofactors, row_difference, row_negative, row_number, row_power
@@ -65,29 +66,10 @@ def reduced_class(curve, u, v, rims):
     return (w, root, n), a, b
 
 
-def joined_zeros(prime, f, one, other):
-    """The rows d, u, v for the zeros of two pairs (u, v) together: those of d and its opposites, and of (u, v)."""
-    u, v = one
-    w, root = other
-    shared, left, right = row_cofactors(prime, u, w)
-    if shared == ONE:
-        # The root is v modulo u, and the other one modulo w.
-        missing = row_rest(prime, row_product(prime, row_difference(prime, root, v), left), w)
-        return ONE, row_product(prime, u, w), row_sum(prime, v, row_product(prime, u, missing))
-    both, outer, inner = row_cofactors(prime, shared, row_sum(prime, v, root))
-    product = row_quotient(prime, row_product(prime, u, w), row_product(prime, both, both))
-    first = row_product(prime, row_product(prime, left, u), root)
-    second = row_product(prime, row_product(prime, right, w), v)
-    third = row_sum(prime, row_product(prime, v, root), f)
-    total = row_product(prime, outer, row_sum(prime, first, second))
-    total = row_quotient(prime, row_sum(prime, total, row_product(prime, inner, third)), both)
-    return both, product, row_rest(prime, total, product)
-
-
 def told_sum(curve, one, other):
     """The triple of the sum of two, and the rows a, b, c of a function with the difference of the divisors."""
     prime = curve.prime
-    both, u, v = joined_zeros(prime, curve.f.entries, one[:2], other[:2])
+    both, u, v = ideal_product(prime, curve.f.entries, one[:2], other[:2])
     # The factor that is taken out has its poles at the rim.
     further = len(both) - 1
     rims = [first + second + further for first, second in zip(rims_of(curve, one), rims_of(curve, other))]
