@@ -34,7 +34,7 @@ NO_PLEDGES = NO_OBJECTS + (QUINT, "kind", ("kind", "one"), ("kind", "one", "thre
                            ("classes", "one", "29"), ("classes", "one", False), ("classes", "one", SIXTY_ONE), ("classes", "one", 29, 1),
                            ("degree", "d", None), ("degree", "d", True), ("degree", (), 1), ("size", "d", []), ("size", ["d"], 1),
                            ("size", "d", 1, 1), ("alike", "d", 1), ("alike", "d", "E"), ("alike", "d", "e", "f"), ("alike", "d"),
-                           ("likes", "d", "e"), ("KIND", "one", "one"), (1, "one", "one"), (["kind"], "one", "one"), (("kind",), "one", 1),
+                           ("classes", "one", 29, 1, 1), ("alike", "d", "e", "f", "g"), ("kind", "one", "one", 1, 1), ("points", "one", 1, 7, 1, 1), ("likes", "d", "e"), ("KIND", "one", "one"), (1, "one", "one"), (["kind"], "one", "one"), (("kind",), "one", 1),
                            ("kind", "one", ["one"]), ("alike", "d", ["e"]), ("alike", "d", {"e": 1}), ((), (), ()))
 
 

@@ -8,8 +8,8 @@ from twinsheets.divisor.ideals import ideal_of, ideal_product, lifted_root
 from twinsheets.divisor.lattices import reduced
 from twinsheets.poly.division import row_joined
 from twinsheets.poly.factors import factor_rows, multiplicity
-from twinsheets.poly.rows import ONE, row_at, row_cofactors, row_difference, row_negative, row_number, row_power
-from twinsheets.poly.rows import row_product, row_quotient, row_rest, row_sum
+from twinsheets.poly.rows import ONE, row_at, row_difference, row_negative, row_number, row_power, row_product
+from twinsheets.poly.rows import row_rest
 from twinsheets.poly.signs import factor_roots, row_sign
 
 
