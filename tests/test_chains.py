@@ -423,6 +423,23 @@ class ChainTest(Refusals, unittest.TestCase):
         for number in (most + 1, -most - 1, 60, -60):
             self.refused(unit_power, (curve, number), TooMany, limit=2000)
 
+    def test_just_within_the_bounds(self):
+        # A class number of 2000, and a length of 2000; then a length of 40.
+        curve = Curve(Poly(13, (12, 2, 10, 9, 9, 5, 3, 12, 1)))
+        self.assertEqual((class_number(curve), length_of(curve), ideal_classes(curve)), (2000, 2000, 1))
+        unit = least_unit(curve)
+        self.assertEqual((unit.a.degree, unit.a.lead, is_unit(curve, unit), unit_parts(curve, unit)), (2000, 1, True, (1, 1)))
+        self.assertTrue(unit_power(curve, 0) == function(curve, (1,)) and unit_power(curve, -1) * unit == function(curve, (1,)))
+        for number in (2, -2, 60):
+            self.refused(unit_power, (curve, number), TooMany, limit=2000)
+        pairs = reduced_pairs(curve)
+        self.assertEqual(sum(4 - u.degree for u, _ in pairs), 2000)
+        self.assertEqual([len(one) for one in rounds(curve)], [len(pairs)])
+        short = Curve.read(5, "x^6+x^5+x^4+2x^3+4x^2+3x+4")
+        self.assertEqual((length_of(short), unit_power(short, 50).a.degree, unit_power(short, -50).a.degree), (40, 2000, 2000))
+        for number in (51, -51):
+            self.refused(unit_power, (short, number), TooMany, limit=2000)
+
     def test_a_unit_of_a_great_length(self):
         # Told by the chain itself, with more than 2000 as its length.
         for row in plain.curve_rows(13, 12):

@@ -259,6 +259,12 @@ class KindTest(Refusals, unittest.TestCase):
                             for value in (None, (), ((zero_triple(curve), 2),)):
                                 self.refused(is_makers, (curve, value), TooMany, limit=2000)
         self.assertEqual(found, {False, True})
+        # Just as many as there may be.
+        curve = Curve(Poly(13, (12, 2, 10, 9, 9, 5, 3, 12, 1)))
+        self.assertEqual(class_number(curve), 2000)
+        self.assertTrue(is_makers(curve, makers(curve)))
+        self.assertEqual((sum(orders_met(curve).values()), len(halves(curve))), (2000, count_halves(curve)))
+        self.assertEqual(len(list(all_triples(curve))), 2000)
         great = Curve.read(17, "x^7+x+3")
         for call in (kinds, makers, orders_met, halves, lambda curve: is_makers(curve, None)):
             self.refused(call, (great,), TooMany, limit=3000)

@@ -174,6 +174,37 @@ class LanguageTest(unittest.TestCase):
             if any(isinstance(part, ast.Yield) for part in ast.walk(node)):
                 self.assertEqual([other.name for other in named].count(node.name), 1, node.name)
 
+    def test_blocks(self):
+        # What leaves a block gives attributes other attributes, and asks nothing.
+        met = 0
+        for path, tree in trees():
+            for node in ast.walk(tree):
+                if isinstance(node, ast.FunctionDef) and node.name == "__exit__":
+                    met += 1
+                    told = {argument.arg for argument in node.args.args[1:]}
+                    for part in node.body:
+                        self.assertIsInstance(part, ast.Assign, path)
+                        self.assertIsInstance(part.value, ast.Attribute, path)
+                    self.assertEqual(told & {part.id for part in ast.walk(node) if isinstance(part, ast.Name)}, set())
+                if isinstance(node, ast.With):
+                    self.assertEqual(len(node.items), 1)
+                    self.assertIsInstance(node.items[0].optional_vars, ast.Name)
+                # A class has a method of this name, so that no set is changed by it.
+                if isinstance(node, ast.Attribute):
+                    self.assertNotIn(node.attr, ("add", "discard"), path)
+        self.assertEqual(met, 1)
+
+    def test_no_circles(self):
+        after = {}
+        for path, tree in trees():
+            name = ".".join(path.relative_to(ROOT).with_suffix("").parts)
+            after[name] = [node.module for node in tree.body if isinstance(node, ast.ImportFrom)]
+        while after:
+            ends = [name for name, needed in after.items() if not set(needed) & set(after)]
+            self.assertTrue(ends, sorted(after))
+            for name in ends:
+                del after[name]
+
     def test_strings(self):
         for path, tree in trees():
             docs = [node.body[0].value for node in ast.walk(tree)

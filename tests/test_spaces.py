@@ -123,6 +123,19 @@ class SpaceTest(Refusals, unittest.TestCase):
         self.assertIs(is_in_space(Divisor(QUINT, {SPOT: 1}), residue(QUINT, 1).over(X)), False)
         self.assertIs(is_in_space(Divisor(QUINT, {SPOT: 1, OTHER: 1}), residue(QUINT, 1).over(X)), True)
 
+    def test_poles_at_a_rim_that_is_not_told(self):
+        met = set()
+        for curve in (QUINT, EVEN, NONE, FIVE, Curve.read(3, "x^2+1")):
+            points = [place for place in plain.places(curve.prime, curve.f.entries, 2) if place[0] != "rim"]
+            for place in points:
+                for rim in curve.rims:
+                    low = place_divisor(curve, place).times(3)
+                    for function in space_of(low + place_divisor(curve, rim)):
+                        order = function.order_at(rim)
+                        met.add((curve.kind, order))
+                        self.assertIs(is_in_space(low, function), order >= 0)
+        self.assertTrue({("one", -1), ("two", -1), ("none", -1)} <= met)
+
     def test_bases(self):
         checked = 0
         for p in (3, 5, 7):
