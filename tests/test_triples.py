@@ -329,6 +329,16 @@ class TripleTest(Refusals, unittest.TestCase):
                     one = triple_of(Divisor(curve, {curve.points()[0]: 1, curve.points()[-1]: -1}))[0]
                     self.assertEqual(one.times(5).minus(one.times(4)), one)
 
+    def test_few_triples_that_are_not_counted(self):
+        # The class number is not told, but there are not more than 2000 triples.
+        for row in ((7, 4, 6, 15, 11, 12, 5, 1), (10, 8, 7, 4, 0, 14, 1, 4)):
+            curve = Curve(Poly(17, row))
+            self.refused(class_number, (curve,), TooMany, limit=3000)
+            found = list(all_triples(curve))
+            self.assertTrue(900 < len(found) <= 2000)
+            for triple in found[:5] + found[-5:]:
+                self.assertEqual(triple.times(len(found)), zero_triple(curve))
+
     def test_wrong_curves(self):
         wrong_curves = wrong(NO_CURVES, InvalidCurve) + wrong((NONE, Curve.read(3, "2x^2+1")), InvalidOperation)
         self.refusals(zero_triple, (QUINT,), (wrong_curves,))
