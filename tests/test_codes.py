@@ -2,10 +2,13 @@
 
 import unittest
 from itertools import product
+from unittest.mock import patch
 
 from tests import plain
 from tests import plain_spaces as far
 from tests.plain import NO_OBJECTS, SIXTY, Refusals, wrong
+from twinsheets.base import tables
+from twinsheets.base.tables import combined
 from twinsheets.coded import codes
 from twinsheets.coded.codes import Code, code_points, is_turned
 from twinsheets.curve.curves import Curve
@@ -119,6 +122,35 @@ class CodeTest(Refusals, unittest.TestCase):
         for value in NO_CODES:
             if not isinstance(value, tuple):
                 self.assertIs(value in code, False)
+
+    def test_words_are_made_one_by_one(self):
+        steps = []
+
+        def counted(*args):
+            steps.append(args)
+            return combined(*args)
+
+        # 961 words, and a code of size 0 with one word.
+        curve = Curve.read(31, "x^8+x+3")
+        divisor = Divisor(curve, {curve.rims[0]: 1, curve.rims[1]: 1})
+        code, least = Code(divisor, code_points(divisor)), Code(Divisor(QUINT, {RIM: -1}), POINTS)
+        self.assertEqual((curve.kind, code.length, code.size, least.size), ("two", 31, 2, 0))
+        with patch.object(tables, "combined", counted):
+            for one, many in ((code, 961), (least, 1), (CODE, 27)):
+                words, told = one.words(), []
+                self.assertEqual(steps, [])
+                for word in words:
+                    self.assertLessEqual(len(steps), one.size)
+                    steps.clear()
+                    told.append(word)
+                self.assertEqual((len(told), told), (many, sorted(set(told))))
+                self.assertLessEqual(len(steps), one.size)
+                steps.clear()
+            # Two generators of one code go their own ways.
+            one, other = code.words(), code.words()
+            self.assertEqual([next(one), next(one), next(other), next(one), next(other)],
+                             [(0,) * 31, (0,) + code.rows[1][1:], (0,) * 31, tuple(2 * entry % 31 for entry in code.rows[1]),
+                              code.rows[1]])
 
     def test_words_of_functions(self):
         for divisor, points in cases():

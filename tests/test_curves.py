@@ -12,7 +12,13 @@ from twinsheets.poly.polys import Poly
 
 QUINT, EVEN = Curve.read(3, "x^5+2x+1"), Curve.read(3, "x^6+2x^5+x^4+1")
 NO_TEXTS = (True, False, None, 0, 1, "", " ", "y", "x^2+3", "x+", "+x", "1+x", "1x", "x^1", "x^0", "2*x", "X", "x^-1",
-            "x^5+2x+1 ", b"x", ("x",), ["x"], {}, QUINT, Poly(3, (0, 1)), "x^1000", "x^99999", "0x", "x+x")
+            "x^5+2x+1 ", b"x", ("x",), ["x"], {}, QUINT, Poly(3, (0, 1)), "0x", "x+x", "x^01998", "x+x^1998",
+            "x^1998+x^1998", "3x^1998", "1x^1998", "x^1998+0", "x^1998+", "x^", "x^1998x", "x^ 1998", "0x^1998",
+            "x^" + "0" * 3000 + "1", "x^" + "9" * 3997 + "a", "x^" + "9" * 1800 + "+x^1" + "0" * 1800,
+            "x^1998+3", "x^1998+y", "x^+1998", "x^1998+x^1", "x^1998+2+1", "1998", "x^x")
+# Texts of polynomials, though most are longer than what is passed as entries.
+LONG_TEXTS = ("x^999", "x^1000", "2x^1000", "x^1998", "x^99999", "2x^1998+x+1", "x^1998+x^1997+2x^2+2", "x^1998+2x^999",
+              "x^100000000000000000000", "x^" + "9" * 3998, "x^1" + "0" * 1900 + "+x^" + "9" * 1900 + "+2")
 
 
 def points_of(p, f):
@@ -63,6 +69,20 @@ class CurveTest(Refusals, unittest.TestCase):
                 curve = Curve.read(p, str(Poly(p, row)))
                 self.assertEqual(curve, Curve(Poly(p, row)))
                 self.assertIs(type(curve), Curve)
+
+    def test_long_texts(self):
+        for p in (3, 31):
+            half = Poly(p, (0,) * 998 + (1, p - 1))
+            for poly in (half, half * half, half * half * Poly(p, (0, 1)), half.power(5)):
+                self.refused(Curve.read, (p, str(poly)), InvalidCurve)
+                self.refused(Curve, (poly,), InvalidCurve)
+        for text in LONG_TEXTS[1:]:
+            self.refused(Poly.read, (3, text), ParseError, index=0)
+        # Entries that are residues of the one prime, but not of the other one.
+        self.refused(Curve.read, (31, "30x^1998+3"), InvalidCurve)
+        self.refused(Curve.read, (29, "30x^1998+3"), ParseError, index=0)
+        self.refused(Curve.read, (29, "2x^1998+29"), ParseError, index=0)
+        self.refused(Curve.read, (31, "100x^1998"), ParseError, index=0)
 
     def test_twist(self):
         for p in PRIMES:
@@ -118,7 +138,7 @@ class CurveTest(Refusals, unittest.TestCase):
         self.refusals(Curve.read, (3, "x"), (wrong(NO_PRIMES, InvalidPrime), texts))
         for text in NO_TEXTS:
             self.refused(Curve.read, (3, text), ParseError, index=0)
-        for text in ("0", "1", "2", "x^2", "x^4+2x^2+1", "x^9+x", "x^999"):
+        for text in ("0", "1", "2", "x^2", "x^4+2x^2+1", "x^9+x") + LONG_TEXTS:
             self.refused(Curve.read, (3, text), InvalidCurve)
             self.refused(Curve.read, (4, text), InvalidPrime)
         self.assertRaises(TypeError, lambda: QUINT + EVEN)

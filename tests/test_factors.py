@@ -1,6 +1,7 @@
 """[3.1] to [3.5]: the irreducible factors of polynomials."""
 
 import unittest
+from unittest.mock import patch
 
 from tests import plain
 from tests.plain import NO_INTEGERS, NO_POLYS, NO_PRIMES, PRIMES, SIXTY, Refusals, wrong
@@ -9,7 +10,7 @@ from twinsheets.errors import InvalidCount, InvalidOperation, InvalidPoly, Inval
 from twinsheets.poly import factors
 from twinsheets.poly.division import common, is_square_free, power_modulo
 from twinsheets.poly.factors import bar_of, by_degrees, count_irreducible, discriminant, irreducibles, is_bar
-from twinsheets.poly.factors import is_irreducible, least_irreducible, parts, raised, roots
+from twinsheets.poly.factors import is_irreducible, is_row_irreducible, least_irreducible, parts, raised, roots
 from twinsheets.poly.polys import Poly, poly_at
 
 ONE, ZERO, X = Poly(3, (1,)), Poly(3, ()), Poly(3, (0, 1))
@@ -303,6 +304,25 @@ class IrreduciblesTest(unittest.TestCase):
             for row in plain.monics(p, degree):
                 told = plain.is_irreducible(p, row)
                 self.assertIs(is_irreducible(Poly(p, plain.scale(p, row, p - 1))), told)
+
+    def test_great_degrees(self):
+        # Binomials, and products of two factors; with and without a table of powers.
+        rows = [(5, (3,) + (0,) * (2 ** k - 1) + (1,), True) for k in range(1, 9)]
+        rows += [(7, (4,) + (0,) * (2 * 3 ** k - 1) + (1,), True) for k in range(1, 6)]
+        for degree, further in ((2, 256), (64, 64), (16, 128), (32, 2)):
+            one, other = Poly(5, (3,) + (0,) * (degree - 1) + (1,)), Poly(5, (2,) + (0,) * (further - 1) + (1,))
+            rows.append((5, (one * other).entries, False))
+        for degree, further in ((2, 20), (19, 20), (11, 11), (7, 18)):
+            rows.append((3, (least_irreducible(3, degree) * least_irreducible(3, further)).entries, False))
+        for p, row, told in rows:
+            with patch.object(factors, "_MAX_TABLE", 1):
+                self.assertIs(is_row_irreducible(p, row), told, (p, row))
+            self.assertIs(is_row_irreducible(p, row), told, (p, row))
+        for p, top in ((3, 6), (5, 4)):
+            for degree in range(2, top + 1):
+                for row in plain.monics(p, degree):
+                    with patch.object(factors, "_MAX_TABLE", 1):
+                        self.assertIs(is_row_irreducible(p, row), plain.is_irreducible(p, row))
 
     def test_errors_come_with_the_first_result(self):
         for prime, degree in ((4, 2), (3, 0), (3, 21), (None, None)):

@@ -131,6 +131,15 @@ class PlacesTest(Refusals, unittest.TestCase):
             for place in found:
                 self.assertIs(is_place(curve, (both.entries, place[1])), False)
 
+    def test_places_with_more_entries_than_are_passed_as_a_polynomial(self):
+        # Modulo 5, x ** 1024 - 2 is irreducible, as the order of 2 is 4; it has the value 3, which is no square, at 0.
+        u, curve = (3,) + (0,) * 1023 + (1,), Curve.read(5, "x")
+        self.assertIs(is_place(curve, (u, None)), True)
+        self.assertEqual((degree_of(curve, (u, None)), kind_of(curve, (u, None))), (2048, "inert"))
+        for value in ((u, ()), (u, (1,)), (u, (1,) * 1001), (u[:-1] + (2,), None), (u + (0,), None), (u[:-1] + (6,), None),
+                      (u[:-1] + (True,), None), ((1,) + u[1:], None), ((2,) * 2000 + (1,), None), ((0,) * 4000 + (1,), None)):
+            self.assertIs(is_place(curve, value), False)
+
     def test_points_there_and_back(self):
         for p in PRIMES:
             for row in plain.curve_rows(p):

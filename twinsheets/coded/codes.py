@@ -1,13 +1,16 @@
 """Codes: the values that the functions of a space take at places."""
 
 from twinsheets.base.numbers import int_power, is_within
-from twinsheets.coded.tables import all_sums, combined, first_index, product_of, stepped, turned_steps, weight_of
+from twinsheets.base.tables import all_sums, combined, first_index, product_of, stepped, turned_steps, unit_lines
+from twinsheets.base.tables import weight_of, zero_lines
 from twinsheets.curve.spots import RIM
 from twinsheets.divisor.functions import function_of
-from twinsheets.divisor.lattices import let_triples
+from twinsheets.divisor.lattices import basis_triples, let_basis
+from twinsheets.divisor.searches import short_line
+from twinsheets.divisor.shorts import Shorts, are_short, line_triple
 from twinsheets.divisor.spaces import check_divisor, check_sized, is_in_space
 from twinsheets.errors import InvalidCode, InvalidFunction, TooMany
-from twinsheets.poly.rows import row_scaled, row_sum
+from twinsheets.poly.polys import MAX_ENTRIES
 
 MAX_LENGTH = 40
 MAX_WORDS = 4000
@@ -21,8 +24,11 @@ class Code:
         if not are_code_points(divisor, places):
             raise InvalidCode("not code points of the divisor")
         check_sized(divisor)
-        triples = let_triples(divisor.curve, divisor.table)
-        told = told_steps(divisor.curve, triples, places)
+        curve = divisor.curve
+        let = let_basis(curve, divisor.table)
+        triples = basis_triples(curve.prime, let)
+        values = values_at(curve, triples, places)
+        told = told_steps(curve.prime, values)
         self.limits = divisor
         self.places = places
         self.length = len(places)
@@ -31,6 +37,13 @@ class Code:
         self._triples = triples
         # For each row, the residues by which the functions of the basis make one with this word.
         self._factors = tuple([line[len(places):] for line in told])
+        self._columns = [tuple([line[at] for line in values]) for at in range(len(places))]
+        # The functions with a word of zeros, by the residues times which those of the basis add up to them.
+        self._idle = zero_lines(curve.prime, unit_lines(len(values)), self._columns)
+        # Where the functions of the basis have short polynomials, all sums of them do.
+        self._shorts = None
+        if not are_short(triples, MAX_ENTRIES):
+            self._shorts = Shorts(curve, divisor.table, let, MAX_ENTRIES)
 
     def word_of(self, function):
         """The word of a function."""
@@ -46,12 +59,14 @@ class Code:
         total = (0,) * len(self._triples)
         for line, factors in zip(self.rows, self._factors):
             total = combined(prime, total, word[first_index(line)], factors)
-        return function_of(self.limits.curve, triple_total(prime, total, self._triples))
+        if self._shorts is not None and any(word):
+            total = short_line(self._shorts, self._columns, self._idle, word, total)
+        return function_of(self.limits.curve, line_triple(prime, total, self._triples))
 
     def words(self):
         """All words, ascending."""
         check_words(self)
-        for word in all_words(self):
+        for word in all_sums(self.limits.curve.prime, self.rows, self.length):
             yield word
 
     def least_distance(self):
@@ -61,9 +76,8 @@ class Code:
 
     def lightest(self):
         """A word of the least weight, or None."""
-        check_words(self)
         found = None
-        for word in all_words(self):
+        for word in self.words():
             weight = weight_of(word)
             if weight and (found is None or weight < weight_of(found)):
                 found = word
@@ -81,7 +95,7 @@ class Code:
         if least is None:
             return None
         prime = self.limits.curve.prime
-        for word in all_words(self):
+        for word in self.words():
             if 2 * weight_of(combined(prime, value, -1, word)) < least:
                 return word
         return None
@@ -135,29 +149,16 @@ def are_code_points(divisor, value):
     return told[0] >= 0 and all([low < high for low, high in zip(told, told[1:])])
 
 
-def told_steps(curve, triples, places):
+def values_at(curve, triples, places):
+    """For each triple the tuple of its values at places."""
+    functions = [function_of(curve, triple) for triple in triples]
+    return [tuple([function.value_at(place) for place in places]) for function in functions]
+
+
+def told_steps(prime, values):
     """The rows of the code, each with the residues of the functions that make it behind it."""
-    lines = []
-    for at, triple in enumerate(triples):
-        function = function_of(curve, triple)
-        values = [function.value_at(place) for place in places]
-        lines.append(tuple(values + [int(at == other) for other in range(len(triples))]))
-    return stepped(curve.prime, lines, len(places))
-
-
-def triple_total(prime, factors, triples):
-    """The sum of triples with one row below, each times a residue."""
-    first, second, below = (), (), (1,)
-    for factor, (a, b, c) in zip(factors, triples):
-        first = row_sum(prime, first, row_scaled(prime, a, factor))
-        second = row_sum(prime, second, row_scaled(prime, b, factor))
-        below = c
-    return first, second, below
-
-
-def all_words(code):
-    """The ascending list of all words."""
-    return all_sums(code.limits.curve.prime, code.rows, code.length)
+    lines = [line + unit for line, unit in zip(values, unit_lines(len(values)))]
+    return stepped(prime, lines, len(values[0]) if values else 0)
 
 
 def is_line(code, value):

@@ -4,7 +4,7 @@ from twinsheets.base.numbers import check_prime, least_nonsquare
 from twinsheets.curve.spots import FAR, is_shaped, point_spots, rim_spots
 from twinsheets.errors import InvalidCurve, ParseError
 from twinsheets.poly.division import is_row_square_free
-from twinsheets.poly.polys import check_poly, poly_of, row_told
+from twinsheets.poly.polys import check_poly, is_text, poly_of, row_told
 from twinsheets.poly.rows import row_scaled
 
 MAX_DEGREE = 8
@@ -28,9 +28,11 @@ class Curve:
     def read(cls, prime, text):
         """The curve with the polynomial of a text."""
         check_prime(prime)
+        if not is_text(prime, text):
+            raise ParseError(0)
         row = row_told(prime, text)
         if row is None:
-            raise ParseError(0)
+            raise InvalidCurve("a polynomial with too many entries")
         return cls(poly_of(prime, row))
 
     def points(self):

@@ -2,7 +2,7 @@
 
 from twinsheets.base.numbers import is_integer, residue_root
 from twinsheets.poly.factors import is_row_irreducible
-from twinsheets.poly.polys import is_row
+from twinsheets.poly.polys import are_entries
 from twinsheets.poly.rows import row_difference, row_negative, row_product, row_rest, row_value
 from twinsheets.poly.signs import factor_roots, row_sign
 
@@ -69,12 +69,12 @@ def is_spot(prime, row, rims, value):
     factor, root = value
     if factor == RIM:
         return value in rims
-    if not is_row(prime, factor) or len(factor) < 2 or factor[-1] != 1:
+    if not are_entries(prime, factor) or len(factor) < 2 or factor[-1] != 1:
         return False
     if root is None:
         told = row_sign(prime, row, factor) == -1
     else:
-        told = is_row(prime, root) and len(root) < len(factor) and is_root(prime, row, factor, root)
+        told = are_entries(prime, root) and len(root) < len(factor) and is_root(prime, row, factor, root)
     return told and is_row_irreducible(prime, factor)
 
 

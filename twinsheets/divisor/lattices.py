@@ -88,8 +88,12 @@ def moved(bounds, many):
 
 def let_triples(curve, table):
     """The rows (a, b, c) of a basis of the space of a table."""
-    prime = curve.prime
-    top, bottom, basis = let_basis(curve, table)
+    return basis_triples(curve.prime, let_basis(curve, table))
+
+
+def basis_triples(prime, let):
+    """The rows (a, b, c) of the functions that a tuple (top, bottom, basis) tells."""
+    top, bottom, basis = let
     found = []
     for room, a, b in basis:
         first, second = row_product(prime, top, a), row_product(prime, top, b)

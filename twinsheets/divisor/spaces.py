@@ -9,6 +9,7 @@ from twinsheets.divisor.functions import Function, check_one_curve, function_of,
 from twinsheets.divisor.ideals import ideal_of
 from twinsheets.divisor.lattices import let_size, let_triples
 from twinsheets.divisor.quotients import rim_order
+from twinsheets.divisor.searches import short_triples
 from twinsheets.errors import InvalidDivisor, InvalidPlace, TooMany
 from twinsheets.poly.rows import row_difference, row_divided, row_product, row_rest, row_scaled, row_sum, trimmed
 
@@ -18,7 +19,7 @@ MAX_SIZE = 60
 def space_of(divisor):
     """A basis of the space of a divisor."""
     check_sized(divisor)
-    triples = let_triples(divisor.curve, divisor.table)
+    triples = short_triples(divisor.curve, divisor.table)
     return tuple([function_of(divisor.curve, triple) for triple in triples])
 
 

@@ -4,12 +4,15 @@ from twinsheets.base.numbers import check_count, check_prime, int_power
 from twinsheets.errors import InvalidOperation, TooMany
 from twinsheets.poly.polys import Poly, check_poly, poly_of
 from twinsheets.poly.rows import ONE, X, row_at, row_common, row_derivative, row_difference, row_divided, row_monic
-from twinsheets.poly.rows import row_number, row_product, row_quotient, row_rest, row_sum, row_value, trimmed
+from twinsheets.poly.rows import row_number, row_power_rest, row_product, row_quotient, row_rest, row_sum, row_value
+from twinsheets.poly.rows import trimmed
 
 MAX_PARTED = 60
 MAX_LISTED = 20
 _MAX_TIMES = 200
 _MAX_COUNTED = 200
+# Up to this degree a table of powers is worth its making.
+_MAX_TABLE = 300
 
 
 def parts(poly):
@@ -177,12 +180,28 @@ def is_row_irreducible(prime, row):
     if degree < 2 or root_residues(prime, row):
         return degree == 1
     row = row_monic(prime, row)
+    if degree > _MAX_TABLE:
+        return is_long_irreducible(prime, row)
     table = frobenius_table(prime, row)
     power = X
     for _ in range(degree // 2):
         power = frobenius(prime, table, power)
         if row_common(prime, row, row_difference(prime, power, X)) != ONE:
             return False
+    return True
+
+
+def is_long_irreducible(prime, row):
+    """Whether a monic row of a great degree is irreducible: without a table, and with few common divisors."""
+    half = (len(row) - 1) // 2
+    power, product = X, ONE
+    for degree in range(1, half + 1):
+        power = row_power_rest(prime, power, prime, row)
+        product = row_rest(prime, row_product(prime, product, row_difference(prime, power, X)), row)
+        # Small factors are told soon, those of greater degrees many at once.
+        if degree < 4 or degree % 16 == 0 or degree == half:
+            if row_common(prime, row, product) != ONE:
+                return False
     return True
 
 

@@ -8,8 +8,8 @@ from twinsheets.poly.rows import trimmed
 
 MAX_ENTRIES = 1000
 _MAX_POWER = 1000
-# A power in a text is below 1000, an entry below 31.
-_MAX_DIGITS = 3
+# An entry is at most 30.
+_MAX_DIGITS = 2
 
 
 class Made:
@@ -146,10 +146,13 @@ def poly_of(prime, row):
 
 
 def is_row(prime, value):
-    """Whether the value is a tuple of at most 1000 residues, the last one not 0."""
-    if not isinstance(value, tuple) or len(value) > MAX_ENTRIES:
-        return False
-    if not all([is_within(entry, 0, prime - 1) for entry in value]):
+    """Whether the value is the tuple of at most 1000 entries of a polynomial."""
+    return isinstance(value, tuple) and len(value) <= MAX_ENTRIES and are_entries(prime, value)
+
+
+def are_entries(prime, value):
+    """Whether the value is the tuple of the entries of a polynomial: of residues, the last one not 0."""
+    if not isinstance(value, tuple) or not all([is_within(entry, 0, prime - 1) for entry in value]):
         return False
     return not value or value[-1] != 0
 
@@ -195,36 +198,57 @@ def term_text(entry, power):
 
 
 def row_told(prime, text):
-    """The row with a text, or None if the value is no text of one."""
+    """The row of at most 1000 entries with a text, or None if the value is no text of one."""
+    terms = terms_told(prime, text)
+    if terms is None or terms and not is_lesser(terms[0][1], str(MAX_ENTRIES)):
+        return None
+    entries = {int(digits): entry for entry, digits in terms}
+    return trimmed([entries.get(power, 0) for power in range(MAX_ENTRIES)])
+
+
+def is_text(prime, value):
+    """Whether the value is the text of a polynomial, with however many entries."""
+    return terms_told(prime, value) is not None
+
+
+def terms_told(prime, text):
+    """The pairs of the entry and of the digits of the power of all terms of a text, or None for what is none."""
     if not isinstance(text, str):
         return None
-    entries = [0 for _ in range(MAX_ENTRIES)]
+    if text == "0":
+        return []
+    found = []
     for term in text.split("+"):
-        entry, power = term_told(term)
-        if entry is None or power is None or entry >= prime:
+        ahead, sign, behind = term.partition("x")
+        entry, digits = entry_told(ahead, sign), power_told(sign, behind)
+        if not 0 < entry < prime or digits is None:
             return None
-        entries[power] = entry
-    row = trimmed(entries)
-    # Terms that are read from another text than the one they have are none.
-    return row if "+".join(terms_of(row)) == text else None
+        if found and not is_lesser(digits, found[-1][1]):
+            return None
+        found.append((entry, digits))
+    return found
 
 
-def term_told(text):
-    """The pair of entry and power of a term; one that cannot be read is None."""
-    ahead, sign, behind = text.partition("x")
-    if not sign:
-        return number_told(ahead), 0
-    entry = number_told(ahead) if ahead else 1
+def entry_told(ahead, sign):
+    """The entry of a term, which is left out if it is 1, but for the power 0; 0 for what is none."""
+    if sign and ahead in ("", "1"):
+        return 0 if ahead else 1
+    return int(ahead) if is_number(ahead) and len(ahead) <= _MAX_DIGITS else 0
+
+
+def power_told(sign, behind):
+    """The digits of the power of a term, or None."""
     if not behind:
-        return entry, 1
-    mark, digits = behind[:1], behind[1:]
-    return entry, (number_told(digits) if mark == "^" else None)
+        return "1" if sign else "0"
+    digits = behind[1:]
+    return digits if behind[0] == "^" and is_number(digits) and digits != "1" else None
 
 
-def number_told(digits):
-    """The integer with these digits, a few of them at most, or None."""
-    if not 1 <= len(digits) <= _MAX_DIGITS:
-        return None
-    if not all(["0" <= digit <= "9" for digit in digits]):
-        return None
-    return int(digits)
+def is_number(text):
+    """Whether a string has digits alone, as an integer from 1 on has them."""
+    return text[:1] > "0" and all(["0" <= digit <= "9" for digit in text])
+
+
+def is_lesser(digits, other):
+    """Whether the integer with the first digits is the lesser one; both may be too long to be reckoned with."""
+    return (len(digits), digits) < (len(other), other)

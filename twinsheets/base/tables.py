@@ -1,6 +1,6 @@
 """Tables of residues: lists of tuples of one length, over the residues of a prime."""
 
-from twinsheets.base.numbers import inverse_of
+from twinsheets.base.numbers import int_power, inverse_of
 
 
 def combined(prime, one, factor, other):
@@ -38,6 +38,28 @@ def stepped(prime, lines, width):
     return steps
 
 
+def zero_lines(prime, lines, columns):
+    """The lines that tell all sums of some lines whose product with each column is 0."""
+    if not columns:
+        return lines
+    rest = []
+    for line in lines:
+        values = [product_of(prime, line, column) for column in columns]
+        rest.append(tuple(values) + line)
+    for at in range(len(columns)):
+        chosen = [line for line in rest if line[at]]
+        if chosen:
+            top = scaled(prime, chosen[0], inverse_of(prime, chosen[0][at]))
+            others = [combined(prime, line, -line[at], top) for line in chosen[1:]]
+            rest = others + [line for line in rest if not line[at]]
+    return [line[len(columns):] for line in rest]
+
+
+def unit_lines(size):
+    """The lines of a size with an entry 1, and 0 elsewhere."""
+    return [tuple([int(at == other) for other in range(size)]) for at in range(size)]
+
+
 def turned_steps(prime, steps, width):
     """The steps of all tuples of a width whose product with each step is 0."""
     heads = [first_index(line) for line in steps]
@@ -62,9 +84,20 @@ def product_of(prime, one, other):
 
 
 def all_sums(prime, steps, width):
-    """All sums of steps, each times a residue, ascending."""
-    found = [(0,) * width]
-    # The first step counts most: with the last ones first, each list stays ascending.
+    """All sums of steps, each times a residue, ascending; each is made when it is asked for."""
+    for number in range(int_power(prime, len(steps))):
+        # The last step counts least: most often only its factor is another one than before.
+        if number % prime:
+            total = combined(prime, total, 1, steps[-1])
+        else:
+            total = sum_at(prime, steps, width, number)
+        yield total
+
+
+def sum_at(prime, steps, width, number):
+    """The sum of steps times the digits of a number, those of the last step being the lowest ones."""
+    total = (0,) * width
     for line in steps[::-1]:
-        found = [combined(prime, word, factor, line) for factor in range(prime) for word in found]
-    return found
+        total = combined(prime, total, number % prime, line)
+        number = number // prime
+    return total
