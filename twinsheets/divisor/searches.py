@@ -7,7 +7,7 @@ from twinsheets.divisor.shorts import Shorts, are_short, line_triple, part_cost,
 from twinsheets.poly.polys import MAX_ENTRIES
 
 # So many entries are gone through in a search, if it takes so many; a line counts as some more than it has.
-MAX_SPENT = 100 * 10 ** 6
+MAX_SPENT = 200 * 10 ** 6
 _LINE = 64
 # So many steps without a new function make a search begin anew, with another part first.
 FIRST_LIMIT = 200
